@@ -1,0 +1,1 @@
+"""Pulledrooms: rooms with ropes, doors with two numbers, and what finite halls can show."""

@@ -1,0 +1,203 @@
+"""What several tests share: houses, walks, odd values, and a second look at what walks do."""
+
+import random
+from fractions import Fraction
+
+from pulledrooms.houses import House
+
+SINGLE = House(1, ((0, 2, 0, 3),))
+PAIR = House(2, ((0, 2, 1, 3), (1, 1, 1, -2)))
+TWINS = House(2, ((0, 2, 1, 3), (0, 4, 1, -6)))
+ALONE = House(1, ())
+RING = House(4, ((0, 2, 1, 3), (1, -4, 2, 6), (2, 1, 3, 5), (3, -7, 0, 2), (2, 3, 2, -3), (1, 2, 0, 9)))
+HUGE = 10 ** 60 - 1
+
+
+def nested(wrap, levels):
+    """A value of so many levels, one within the other."""
+    value = 0
+    for _ in range(levels):
+        value = wrap(value)
+    return value
+
+
+# None of these is a number, a house, a walk, a list of numbers or a dict of primes.
+NO_NUMBERS = (
+    None, True, False, "", "0", "1", "carry", "rooms 1\n", [], {}, [0], (0, True), (None,), ("0",), [[]], {0: 1},
+    {True: 1}, {"room": 0}, (0, 1), (0, 0, 0), (0, (0,), [()]), nested(lambda inner: [inner], 80),
+    nested(lambda inner: (inner,), 80), nested(lambda inner: {0: inner}, 80), SINGLE,
+)
+ODD = NO_NUMBERS + (13, -1, 1000, HUGE, -HUGE)
+
+
+def ends(house, step):
+    """(room from which the pass leads, leaving number, room to which it leads, arriving number)."""
+    door = house.doors[step[0]]
+    return door if step[1] == 0 else door[2:] + door[:2]
+
+
+def all_passes(house):
+    return [(door, side) for door in range(len(house.doors)) for side in (0, 1)]
+
+
+def rooms_of(house, walk):
+    """The rooms in which the walk is, ahead of its first pass and behind each one."""
+    rooms = [walk[0]]
+    for step in walk[2]:
+        rooms.append(ends(house, step)[2])
+    return rooms
+
+
+def look_of(house, walk):
+    """What the walk does with numbers: x goes to x * factor + more.
+
+    A pull adds 1, and a pass multiplies by its arriving number over its leaving number. So
+    carrying and cancelling change nothing here: walks that are one have one look.
+    """
+    factor, more = Fraction(1), Fraction(walk[1][0])
+    for step, pulls in zip(walk[2], walk[1][1:]):
+        _, leaving, _, arriving = ends(house, step)
+        factor = factor * arriving / leaving
+        more = more * arriving / leaving + pulls
+    return walk[0], rooms_of(house, walk)[-1], factor, more
+
+
+def carry(house, walk, spot, times):
+    _, leaving, _, arriving = ends(house, walk[2][spot])
+    pulls = list(walk[1])
+    pulls[spot] -= leaving * times
+    pulls[spot + 1] += arriving * times
+    return walk[0], tuple(pulls), walk[2]
+
+
+def cancel(walk, spot):
+    pulls, passes = list(walk[1]), list(walk[2])
+    assert passes[spot + 1] == (passes[spot][0], 1 - passes[spot][1]) and pulls[spot + 1] == 0
+    pulls[spot:spot + 3] = [pulls[spot] + pulls[spot + 2]]
+    passes[spot:spot + 2] = []
+    return walk[0], tuple(pulls), tuple(passes)
+
+
+def spots(house, walk):
+    """The indexes of the passes at which the walk can be shortened."""
+    found = []
+    for spot in range(len(walk[2]) - 1):
+        door, side = walk[2][spot]
+        if walk[2][spot + 1] == (door, 1 - side) and walk[1][spot + 1] % ends(house, walk[2][spot])[3] == 0:
+            found.append(spot)
+    return tuple(found)
+
+
+def shorten(house, walk, spot):
+    times = walk[1][spot + 1] // ends(house, walk[2][spot])[3]
+    return cancel(carry(house, walk, spot, -times), spot)
+
+
+def some_plain_form(house, walk, chance):
+    """The plain form, come to by shortenings and carryings in an order left to chance."""
+    while True:
+        deeds = [("shorten", spot) for spot in spots(house, walk)]
+        for spot, step in enumerate(walk[2]):
+            if not 0 <= walk[1][spot] < abs(ends(house, step)[1]):
+                deeds.append(("carry", spot))
+        if not deeds:
+            return walk
+        deed, spot = chance.choice(deeds)
+        if deed == "shorten":
+            walk = shorten(house, walk, spot)
+        else:
+            leaving = ends(house, walk[2][spot])[1]
+            rest = walk[1][spot] % abs(leaving)
+            walk = carry(house, walk, spot, (walk[1][spot] - rest) // leaving)
+
+
+def some_number(chance, numbers):
+    return chance.choice(numbers) * chance.choice((1, -1))
+
+
+def some_house(chance, numbers=(1, 2, 3, 4, 6), most_rooms=5, most_more=4):
+    """A house left to chance, whose door numbers have the sizes told."""
+    rooms = chance.randint(1, most_rooms)
+    doors = []
+    for room in range(1, rooms):
+        doors.append((chance.randrange(room), room))
+    for _ in range(chance.randint(0, most_more)):
+        doors.append((chance.randrange(rooms), chance.randrange(rooms)))
+    chance.shuffle(doors)
+    return House(rooms, tuple((near, some_number(chance, numbers), far, some_number(chance, numbers))
+                              for near, far in doors))
+
+
+def some_walk(chance, house, passes, room=None, pulls=(-6, 12), turns=0.5):
+    """A walk left to chance, which often turns back; pulls are in the range told."""
+    room = chance.randrange(house.rooms) if room is None else room
+    steps, here = [], room
+    while len(steps) < passes:
+        ways = [step for step in all_passes(house) if ends(house, step)[0] == here]
+        if not ways:
+            break
+        step = chance.choice(ways)
+        if steps and chance.random() < turns:
+            step = (steps[-1][0], 1 - steps[-1][1])
+        steps.append(step)
+        here = ends(house, step)[2]
+    return room, tuple(chance.randint(*pulls) for _ in range(len(steps) + 1)), tuple(steps)
+
+
+def way_between(house, start, goal):
+    """The passes of a shortest way from one room to another."""
+    ways = {start: ()}
+    waiting = [start]
+    while goal not in ways:
+        room = waiting.pop(0)
+        for step in all_passes(house):
+            leads, _, there, _ = ends(house, step)
+            if leads == room and there not in ways:
+                ways[there] = ways[room] + (step,)
+                waiting.append(there)
+    return ways[goal]
+
+
+def some_round(chance, house, passes, **more):
+    """A walk left to chance that comes home."""
+    room, pulls, steps = some_walk(chance, house, passes, **more)
+    homeward = way_between(house, rooms_of(house, (room, pulls, steps))[-1], room)
+    return room, pulls + tuple(chance.randint(-6, 12) for _ in homeward), steps + homeward
+
+
+def turned_back(house, walk):
+    """The walk backwards."""
+    steps = tuple((door, 1 - side) for door, side in reversed(walk[2]))
+    return rooms_of(house, walk)[-1], tuple(-pulls for pulls in reversed(walk[1])), steps
+
+
+def put_together(*walks):
+    """The walks, one after another."""
+    room, pulls, passes = walks[0]
+    for _, more, further in walks[1:]:
+        pulls = pulls[:-1] + (pulls[-1] + more[0],) + more[1:]
+        passes = passes + further
+    return room, pulls, passes
+
+
+def some_nothing(chance, house, passes):
+    """A walk left to chance that is nothing: passes and backs are put into standing, pulls carried."""
+    walk = chance.randrange(house.rooms), (0,), ()
+    while len(walk[2]) < passes:
+        spot = chance.randrange(len(walk[1]))
+        ways = [step for step in all_passes(house) if ends(house, step)[0] == rooms_of(house, walk)[spot]]
+        if not ways:
+            break
+        step, ahead = chance.choice(ways), chance.randint(-5, 5)
+        pulls, steps = list(walk[1]), list(walk[2])
+        pulls[spot:spot + 1] = [ahead, 0, pulls[spot] - ahead]
+        steps[spot:spot] = [step, (step[0], 1 - step[1])]
+        walk = walk[0], tuple(pulls), tuple(steps)
+        walk = carry(house, walk, chance.randrange(len(steps)), chance.randint(-2, 2))
+    return walk
+
+
+def houses_by_chance(seed, many, **more):
+    """So many pairs of a chance and a house."""
+    chance = random.Random(seed)
+    return [(chance, some_house(chance, **more)) for _ in range(many)]

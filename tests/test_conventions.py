@@ -1,0 +1,125 @@
+"""[3], [5] What holds for all functions: calls by name, the order of the errors, new results."""
+
+import copy
+import unittest
+
+from pulledrooms import errors, houses, texts, walks
+from tests.helper import HUGE, NO_NUMBERS, ODD, PAIR, SINGLE
+
+WALK = (0, (1, 0, 4), ((0, 0), (0, 1)))
+FAR = (0, (0, 0), ((0, 0),))
+NO_HOUSES = tuple(thing for thing in ODD if thing is not SINGLE) + (houses.House, (2, PAIR.doors))
+NO_ROOMS = NO_NUMBERS + (-1, 2, HUGE)
+NO_WALKS = ODD + (list(WALK), (0, [1, 0, 4], WALK[2]), (0, (1, 0, 4), list(WALK[2])), (False,) + WALK[1:],
+                  (0, (True, 0, 4), WALK[2]), (0, (1, 0, 4), ((0, False), (0, 1))), (0, (1, 0), WALK[2]), (2, (0,), ()))
+NO_PASSES = tuple(thing for thing in ODD if thing != (0, 1)) + ((0, True), (0, 2), (2, 0), [0, 1])
+NO_STRINGS = tuple(thing for thing in ODD if not isinstance(thing, str))
+NO_TIMES = NO_NUMBERS + (10, -10)
+
+HOUSE = ("house", PAIR, errors.BadHouse, NO_HOUSES)
+ROOM = ("room", 1, errors.BadRoom, NO_ROOMS)
+WALKED = ("walk", WALK, errors.BadWalk, NO_WALKS)
+ROUND = ("walk", WALK, errors.NotHome, (FAR,))
+ONE = ("one", WALK, errors.BadWalk, NO_WALKS)
+OTHER = ("other", WALK, errors.BadWalk, NO_WALKS)
+THING = ("thing", WALK, None, ())
+
+# A function and, for each parameter from left to right, its name, a right value, the error for wrong ones, wrong ones.
+# A parameter that has two errors stands there twice.
+CALLS = [
+    (houses.House, [("rooms", 2, errors.BadRooms, NO_NUMBERS + (0, 13)),
+                    ("doors", PAIR.doors, errors.BadDoors, NO_NUMBERS[:3] + ([], (0,), list(PAIR.doors)))]),
+    (houses.passes_from, [HOUSE, ROOM]),
+    (houses.numbers_of, [HOUSE, ("thing", (0, 1), errors.BadPass, NO_PASSES)]),
+    (walks.is_walk, [HOUSE, THING]),
+    (walks.end_of, [HOUSE, WALKED]),
+    (walks.comes_home, [HOUSE, WALKED]),
+    (walks.joined, [HOUSE, ONE, OTHER, ("other", WALK, errors.Elsewhere, ((1, (0,), ()),))]),
+    (walks.back, [HOUSE, WALKED]),
+    (walks.standing, [HOUSE, ROOM]),
+    (walks.power, [HOUSE, WALKED, ROUND, ("times", -2, errors.BadTimes, NO_TIMES)]),
+    (texts.house_text, [HOUSE]),
+    (texts.read_house, [("text", "rooms 1\ndoor 0 2 0 3\n", errors.BadText, NO_STRINGS + ("", "rooms 0"))]),
+    (texts.walks_text, [HOUSE, ("walks", [WALK, FAR], errors.BadWalks,
+                                NO_NUMBERS[:6] + ([WALK, None], {0: WALK}, WALK, [list(WALK)]))]),
+    (texts.read_walks, [HOUSE, ("text", "0 1 0> 0\n1 2\n", errors.BadText, NO_STRINGS + ("0", "0 True"))]),
+]
+
+
+def right_values(places):
+    return {name: right for name, right, _, _ in places}
+
+
+def spoilt(result):
+    """Changes the lists and dicts of a result, at every depth."""
+    if isinstance(result, (list, tuple)):
+        for part in result:
+            spoilt(part)
+    if isinstance(result, list):
+        result.append("spoilt")
+    if isinstance(result, dict):
+        for part in list(result.values()):
+            spoilt(part)
+        result["spoilt"] = True
+
+
+class Conventions(unittest.TestCase):
+    def test_by_position_and_by_name(self):
+        for asked, places in CALLS:
+            values = right_values(places)
+            result = asked(*values.values())
+            self.assertEqual(asked(**values), result, asked.__name__)
+            self.assertEqual(asked(**dict(reversed(list(values.items())))), result, asked.__name__)
+
+    def test_wrong_values_and_the_first_error(self):
+        for asked, places in CALLS:
+            for at, (name, _, error, wrong) in enumerate(places):
+                for value in wrong:
+                    self.refused(asked, places, name, error, value, ())
+                    self.refused(asked, places, name, error, value, places[at + 1:])
+
+    def refused(self, asked, places, name, error, value, later):
+        """The error comes even where the parameters told later have wrong values, too."""
+        values = right_values(places)
+        values.update({other: wrong[0] for other, _, _, wrong in later if other != name and wrong})
+        values[name] = value
+        with self.subTest(asked=asked.__name__, name=name, value=value, later=bool(later)):
+            with self.assertRaises(errors.PullError) as caught:
+                asked(**values)
+            self.assertIs(type(caught.exception), error)
+
+    def test_any_value_is_judged(self):
+        for asked, places in CALLS:
+            if THING not in places:
+                continue
+            for thing in NO_WALKS + NO_HOUSES:
+                with self.subTest(asked=asked.__name__, thing=thing):
+                    self.assertIs(asked(**{**right_values(places), "thing": thing}), False)
+
+    def test_results_are_new_each_time(self):
+        for asked, places in CALLS:
+            values = right_values(places)
+            wanted = copy.deepcopy(asked(**values))
+            spoilt(asked(**values))
+            self.assertEqual(asked(**values), wanted, asked.__name__)
+
+    def test_what_is_passed_stays(self):
+        for asked, places in CALLS:
+            values = right_values(places)
+            kept = copy.deepcopy(values)
+            spoilt(asked(**values))
+            self.assertEqual(values, kept, asked.__name__)
+
+    def test_a_list_where_a_list_is_expected_or_a_tuple(self):
+        self.assertEqual(texts.walks_text(PAIR, (WALK, FAR)), texts.walks_text(PAIR, [WALK, FAR]))
+
+
+class Objects(unittest.TestCase):
+    def test_a_house_is_equal_to_no_other_value(self):
+        for thing in NO_HOUSES:
+            self.assertFalse(SINGLE == thing or thing == SINGLE)
+            self.assertTrue(SINGLE != thing and thing != SINGLE)
+
+
+if __name__ == "__main__":
+    unittest.main()

@@ -1,0 +1,58 @@
+"""The interface: names, parameters, and the file in which each is defined."""
+
+import importlib
+import inspect
+import os
+import re
+import subprocess
+import sys
+import unittest
+
+import pulledrooms
+
+INTERFACE = {
+    "houses": "House(rooms, doors), passes_from(house, room), numbers_of(house, thing)",
+    "walks": "is_walk(house, thing), end_of(house, walk), comes_home(house, walk), joined(house, one, other), "
+             "back(house, walk), standing(house, room), power(house, walk, times)",
+    "texts": "house_text(house), read_house(text), walks_text(house, walks), read_walks(house, text)",
+}
+# Each module imports only from those that stand ahead of it; checks is a further one.
+ORDER = ("errors", "checks", "houses", "walks", "texts")
+
+
+class Interface(unittest.TestCase):
+    def test_names_parameters_and_files(self):
+        for name, row in INTERFACE.items():
+            module = importlib.import_module(f"pulledrooms.{name}")
+            for word, parameters in re.findall(r"(\w+)\(([^)]*)\)", row):
+                with self.subTest(module=name, word=word):
+                    thing = getattr(module, word)
+                    self.assertEqual(thing.__module__, module.__name__)
+                    self.assertEqual(list(inspect.signature(thing).parameters), parameters.split(", "))
+
+    def test_init_defines_nothing(self):
+        show = "import pulledrooms; print([name for name in vars(pulledrooms) if not name.startswith('__')])"
+        told = subprocess.run([sys.executable, "-c", show], capture_output=True, text=True, check=True,
+                              cwd=os.path.dirname(os.path.dirname(pulledrooms.__file__)))
+        self.assertEqual(told.stdout, "[]\n")
+
+    def test_each_module_imports_only_from_those_ahead_of_it(self):
+        for at, name in enumerate(ORDER):
+            module = importlib.import_module(f"pulledrooms.{name}")
+            with open(module.__file__, encoding="utf-8") as file:
+                used = re.findall(r"^from pulledrooms\.(\w+) import", file.read(), re.M)
+            with self.subTest(module=name):
+                self.assertLessEqual(set(used), set(ORDER[:at]))
+
+    def test_all_modules_stand_in_the_order(self):
+        folder = os.path.dirname(pulledrooms.__file__)
+        files = sorted(name for name in os.listdir(folder) if name != "__pycache__")
+        self.assertEqual(files, sorted(["__init__.py"] + [name + ".py" for name in ORDER]))
+
+    def test_a_house_has_its_attributes(self):
+        house = importlib.import_module("pulledrooms.houses").House(2, ((0, 2, 1, 3),))
+        self.assertEqual((house.rooms, house.doors), (2, ((0, 2, 1, 3),)))
+
+
+if __name__ == "__main__":
+    unittest.main()
