@@ -93,7 +93,7 @@ def _told_rooms(words):
 
 def _told_door(rooms, words):
     """The door that the words tell, or None."""
-    if len(words) != 5 or words[0] != "door":
+    if words[0] != "door":
         return None
     door = tuple([_told_number(word) for word in words[1:]])
     return door if is_door(rooms, door) else None

@@ -3,7 +3,7 @@
 import copy
 import unittest
 
-from pulledrooms import errors, houses, texts, walks
+from pulledrooms import cores, errors, forms, houses, ratios, texts, walks, weights
 from tests.helper import HUGE, NO_NUMBERS, ODD, PAIR, SINGLE
 
 WALK = (0, (1, 0, 4), ((0, 0), (0, 1)))
@@ -15,6 +15,11 @@ NO_WALKS = ODD + (list(WALK), (0, [1, 0, 4], WALK[2]), (0, (1, 0, 4), list(WALK[
 NO_PASSES = tuple(thing for thing in ODD if thing != (0, 1)) + ((0, True), (0, 2), (2, 0), [0, 1])
 NO_STRINGS = tuple(thing for thing in ODD if not isinstance(thing, str))
 NO_TIMES = NO_NUMBERS + (10, -10)
+BARE = (0, (0, 0, 0), WALK[2])
+NO_SPOTS = NO_NUMBERS + (-1, 2, HUGE)
+NO_MOVES = ODD + (["cancel", 0], ("cancel", False), ("carry", 0, True), ("put", 3, (0, 0), 0))
+PRIMES = (2, 3, 5, 7, 11, 13, 17, 19, 23, 29, 31, 37, 41)
+THIRTEEN = houses.House(1, tuple((0, prime, 0, 1) for prime in PRIMES))
 
 HOUSE = ("house", PAIR, errors.BadHouse, NO_HOUSES)
 ROOM = ("room", 1, errors.BadRoom, NO_ROOMS)
@@ -23,6 +28,10 @@ ROUND = ("walk", WALK, errors.NotHome, (FAR,))
 ONE = ("one", WALK, errors.BadWalk, NO_WALKS)
 OTHER = ("other", WALK, errors.BadWalk, NO_WALKS)
 THING = ("thing", WALK, None, ())
+JUDGED = [("thing", right, None, ()) for right in (
+    [0], [("cancel", 0)], BARE, (3, 2), (1, 1), ({2: 1, 3: 1}, (0, 0)), [(BARE, 1)])]
+SPOTS, MOVES, CORE, LENGTHS, SIGNS, WEIGHTS, GROWTH = JUDGED
+FEW = ("house", PAIR, errors.TooMany, (THIRTEEN,))
 
 # A function and, for each parameter from left to right, its name, a right value, the error for wrong ones, wrong ones.
 # A parameter that has two errors stands there twice.
@@ -43,6 +52,36 @@ CALLS = [
     (texts.walks_text, [HOUSE, ("walks", [WALK, FAR], errors.BadWalks,
                                 NO_NUMBERS[:6] + ([WALK, None], {0: WALK}, WALK, [list(WALK)]))]),
     (texts.read_walks, [HOUSE, ("text", "0 1 0> 0\n1 2\n", errors.BadText, NO_STRINGS + ("0", "0 True"))]),
+    (forms.carried, [HOUSE, WALKED, ("spot", 1, errors.BadSpot, NO_SPOTS), ("times", -7, errors.BadTimes, NO_NUMBERS)]),
+    (forms.shortening_spots, [HOUSE, WALKED]),
+    (forms.shortened, [HOUSE, WALKED, ("spot", 0, errors.BadSpot, NO_SPOTS + (1,))]),
+    (forms.is_plain, [HOUSE, THING]),
+    (forms.plain_form, [HOUSE, WALKED]),
+    (forms.are_one, [HOUSE, ONE, OTHER]),
+    (forms.is_nothing, [HOUSE, WALKED]),
+    (forms.spots_to_nothing, [HOUSE, ("walk", (0, (-4, 6, 0), WALK[2]), errors.BadWalk, NO_WALKS)]),
+    (forms.are_spots, [HOUSE, WALKED, SPOTS]),
+    (forms.after_move, [HOUSE, WALKED, ("move", ("put", 0, (0, 0), 3), errors.BadMove, NO_MOVES)]),
+    (forms.moves_between, [HOUSE, ONE, ("other", (0, (5,), ()), errors.BadWalk, NO_WALKS)]),
+    (forms.are_moves, [HOUSE, ONE, ("other", (0, (5,), ()), errors.BadWalk, NO_WALKS), MOVES]),
+    (cores.is_core, [HOUSE, THING]),
+    (cores.core_of, [HOUSE, WALKED, ROUND]),
+    (cores.steps_of, [HOUSE, WALKED, ROUND]),
+    (cores.turned_core, [HOUSE, WALKED, ROUND, ("many", 1, errors.BadMany, NO_NUMBERS + (-1, 3))]),
+    (ratios.ratio_of, [HOUSE, WALKED]),
+    (ratios.are_lengths, [HOUSE, LENGTHS]),
+    (ratios.lengths_of, [HOUSE]),
+    (ratios.stretching_walk, [HOUSE]),
+    (ratios.are_signs, [HOUSE, SIGNS]),
+    (ratios.signs_of, [HOUSE]),
+    (ratios.turning_walk, [HOUSE]),
+    (ratios.carried_along, [HOUSE, ("number", -6, errors.BadNumber, NO_NUMBERS),
+                            ("walk", BARE, errors.BadWalk, NO_WALKS + (WALK,))]),
+    (ratios.kept_pulls, [HOUSE]),
+    (weights.are_weights, [HOUSE, WEIGHTS]),
+    (weights.weights_of, [HOUSE, FEW]),
+    (weights.is_growth, [HOUSE, GROWTH]),
+    (weights.growth_of, [HOUSE, FEW]),
 ]
 
 
@@ -90,11 +129,19 @@ class Conventions(unittest.TestCase):
 
     def test_any_value_is_judged(self):
         for asked, places in CALLS:
-            if THING not in places:
+            if places[-1] not in [THING] + JUDGED:
                 continue
-            for thing in NO_WALKS + NO_HOUSES:
+            for thing in NO_WALKS[len(ODD):] + NO_HOUSES + NO_MOVES:
                 with self.subTest(asked=asked.__name__, thing=thing):
                     self.assertIs(asked(**{**right_values(places), "thing": thing}), False)
+
+    def test_the_house_is_checked_ahead_of_what_is_judged(self):
+        for asked, places in CALLS:
+            if places[-1] not in [THING] + JUDGED:
+                continue
+            for thing in ODD:
+                with self.subTest(asked=asked.__name__, thing=thing), self.assertRaises(errors.BadHouse):
+                    asked(**{**right_values(places), "house": None, "thing": thing})
 
     def test_results_are_new_each_time(self):
         for asked, places in CALLS:
@@ -112,6 +159,11 @@ class Conventions(unittest.TestCase):
 
     def test_a_list_where_a_list_is_expected_or_a_tuple(self):
         self.assertEqual(texts.walks_text(PAIR, (WALK, FAR)), texts.walks_text(PAIR, [WALK, FAR]))
+        for wrap in (list, tuple):
+            self.assertIs(forms.are_spots(PAIR, (0, (-4, 6, 0), WALK[2]), wrap([0])), True)
+            self.assertIs(forms.are_moves(PAIR, WALK, (0, (5,), ()), wrap([("cancel", 0)])), True)
+            growing = houses.House(1, ((0, 1, 0, 6),))
+            self.assertIs(weights.is_growth(growing, wrap([((0, (0, 0), ((0, 0),)), 1)])), True)
 
 
 class Objects(unittest.TestCase):

@@ -15,9 +15,18 @@ INTERFACE = {
     "walks": "is_walk(house, thing), end_of(house, walk), comes_home(house, walk), joined(house, one, other), "
              "back(house, walk), standing(house, room), power(house, walk, times)",
     "texts": "house_text(house), read_house(text), walks_text(house, walks), read_walks(house, text)",
+    "forms": "carried(house, walk, spot, times), shortening_spots(house, walk), shortened(house, walk, spot), "
+             "is_plain(house, thing), plain_form(house, walk), are_one(house, one, other), is_nothing(house, walk), "
+             "spots_to_nothing(house, walk), are_spots(house, walk, thing), after_move(house, walk, move), "
+             "moves_between(house, one, other), are_moves(house, one, other, thing)",
+    "cores": "is_core(house, thing), core_of(house, walk), steps_of(house, walk), turned_core(house, walk, many)",
+    "ratios": "ratio_of(house, walk), are_lengths(house, thing), lengths_of(house), stretching_walk(house), "
+              "are_signs(house, thing), signs_of(house), turning_walk(house), carried_along(house, number, walk), "
+              "kept_pulls(house)",
+    "weights": "are_weights(house, thing), weights_of(house), is_growth(house, thing), growth_of(house)",
 }
 # Each module imports only from those that stand ahead of it; checks is a further one.
-ORDER = ("errors", "checks", "houses", "walks", "texts")
+ORDER = ("errors", "checks", "houses", "walks", "texts", "forms", "cores", "ratios", "weights")
 
 
 class Interface(unittest.TestCase):

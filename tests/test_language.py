@@ -10,8 +10,8 @@ import pulledrooms
 
 FOLDER = os.path.dirname(pulledrooms.__file__)
 LIBRARY = {"heapq": {"heappush", "heappop"}, "math": {"gcd", "lcm", "isqrt", "comb", "perm", "factorial"}}
-LET = set("""len range enumerate zip min max sum abs sorted reversed int str bool bytes list tuple dict isinstance ord repr
-any all divmod Exception ValueError TypeError KeyError IndexError LookupError ZeroDivisionError ArithmeticError
+LET = set("""len range enumerate zip min max sum abs sorted reversed int str bool bytes list tuple dict isinstance
+ord repr any all divmod Exception ValueError TypeError KeyError IndexError LookupError ZeroDivisionError ArithmeticError
 OverflowError RuntimeError NotImplementedError AttributeError super""".split())
 METHODS = set("""append clear copy count endswith extend find get index insert isalnum isalpha isdigit islower isspace
 isupper items join keys ljust lower lstrip partition pop remove replace reverse rfind rjust rpartition rsplit rstrip
@@ -123,8 +123,8 @@ class Language(unittest.TestCase):
 
     def test_strings_hold_no_barred_word(self):
         for name, tree in self.each():
-            told = [node.body[0].value for node in ast.walk(tree)
-                    if isinstance(node, (ast.Module, ast.FunctionDef, ast.ClassDef)) and isinstance(node.body[0], ast.Expr)]
+            owners = [node for node in ast.walk(tree) if isinstance(node, (ast.Module, ast.FunctionDef, ast.ClassDef))]
+            told = [node.body[0].value for node in owners if isinstance(node.body[0], ast.Expr)]
             for node in ast.walk(tree):
                 if isinstance(node, ast.Constant) and isinstance(node.value, str) and node not in told:
                     with self.subTest(name=name, text=node.value):
