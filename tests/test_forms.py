@@ -8,13 +8,13 @@ from pulledrooms.forms import are_one, carried, is_nothing, is_plain, plain_form
 from pulledrooms.houses import House
 from pulledrooms.walks import back, is_walk, joined, power, standing
 from tests.helper import (
-    ALONE, HUGE, NO_NUMBERS, ODD, PAIR, RING, SINGLE, TWINS, carry, ends, houses_by_chance, look_of, put_together,
-    rooms_of, shorten, some_nothing, some_number, some_plain_form, some_round, some_walk, spots, turned_back,
+    ALONE, GREAT, HUGE, NO_NUMBERS, ODD, PAIR, RING, SINGLE, TWINS, carry, ends, houses_by_chance, look_of,
+    put_together, rooms_of, shorten, some_nothing, some_number, some_plain_form, some_round, some_walk, spots,
+    turned_back,
 )
 
 THERE, HERE = (0, 0), (0, 1)
 TURN = (0, (1, 6, 5), (THERE, HERE))
-GREAT = House(2, ((0, 999, 1, -998), (1, -1, 1, 997), (0, -512, 0, 729)))
 # Numbers of pulls that numbers of the doors of GREAT divide, and some that they do not.
 PULLS = (0, 1, -1, 998, -999, 999 * 998, 512 * 729, -512, 997 * 7, 5, HUGE, -HUGE, 10 ** 59)
 

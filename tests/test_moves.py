@@ -7,15 +7,13 @@ from pulledrooms.errors import BadMove, BadWalk
 from pulledrooms.forms import (
     after_move, are_moves, are_one, are_spots, is_nothing, moves_between, plain_form, spots_to_nothing,
 )
-from pulledrooms.houses import House
 from tests.helper import (
-    HUGE, NO_NUMBERS, ODD, PAIR, RING, SINGLE, TWINS, all_passes, cancel, carry, ends, houses_by_chance, put_together,
-    rooms_of, shorten, some_nothing, some_walk, spots, turned_back,
+    GREAT, HUGE, NO_NUMBERS, ODD, PAIR, RING, SINGLE, TWINS, all_passes, cancel, carry, ends, houses_by_chance,
+    put_together, rooms_of, shorten, some_nothing, some_walk, spots, turned_back,
 )
 
 THERE, HERE = (0, 0), (0, 1)
 NOTHING = (0, (-4, 6, 0), (THERE, HERE))
-GREAT = House(2, ((0, 999, 1, -998), (1, -1, 1, 997), (0, -512, 0, 729)))
 
 
 def is_number(thing):
