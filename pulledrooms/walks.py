@@ -10,12 +10,15 @@ MOST_TIMES = 9
 def is_walk(house, thing):
     """Whether thing is a walk of the house."""
     need_house(house)
+    return is_frame(house, thing) and all([is_number(times) for times in thing[1]])
+
+
+def is_frame(house, thing):
+    """Whether thing is a triple like a walk, whatever stands in the place of each pulls."""
     if not is_tuple_of(thing, 3):
         return False
     room, pulls, passes = thing
-    if not is_room(house, room) or not isinstance(pulls, tuple) or not isinstance(passes, tuple):
-        return False
-    if len(pulls) != len(passes) + 1 or not all([is_number(times) for times in pulls]):
+    if not is_room(house, room) or not isinstance(passes, tuple) or not is_tuple_of(pulls, len(passes) + 1):
         return False
     return all([is_pass(house, step) for step in passes]) and _hang_together(house, room, passes)
 

@@ -17,7 +17,7 @@ def are_weights(house, thing):
     if not is_tuple_of(thing, 2):
         return False
     weights, heights = thing
-    primes = _primes(house)
+    primes = primes_of(house)
     if not isinstance(weights, dict) or len(weights) != len(primes) or not is_tuple_of(heights, house.rooms):
         return False
     told = [weights.get(prime) for prime in primes]
@@ -34,13 +34,13 @@ def are_weights(house, thing):
 def weights_of(house):
     """Weights of the house, or None."""
     primes = _few_primes(house)
-    weights, times = _balance(_round_rows(house, primes), len(primes))
+    weights, times = _balance(round_rows(house, primes), len(primes))
     if times is not None:
         return None
     heights = []
     for way in ways_from_first(house):
         # What a way stretches by, weighed, is by how much the room at its end is lower than room 0.
-        risen = _stretch(house, primes, way)
+        risen = stretch_of(house, primes, way)
         heights.append(-sum([weight * many for weight, many in zip(weights, risen)]))
     return (dict(zip(primes, weights)), tuple(heights))
 
@@ -50,11 +50,11 @@ def is_growth(house, thing):
     need_house(house)
     if not is_list(thing) or not all([_is_part(house, part) for part in thing]):
         return False
-    primes = _primes(house)
+    primes = primes_of(house)
     # Of numbers with many digits no power can be told, but its exponents can.
     total = [0 for _ in primes]
     for walk, times in thing:
-        risen = _stretch(house, primes, walk[2])
+        risen = stretch_of(house, primes, walk[2])
         total = [whole + times * many for whole, many in zip(total, risen)]
     return any(total) and min(total) >= 0
 
@@ -62,10 +62,17 @@ def is_growth(house, thing):
 def growth_of(house):
     """A growth of the house, or None."""
     primes = _few_primes(house)
-    _, times = _balance(_round_rows(house, primes), len(primes))
+    _, times = _balance(round_rows(house, primes), len(primes))
     if times is None:
         return None
     return [(walk, many) for walk, many in zip(round_walks(house), times) if many != 0]
+
+
+def have_weights(house):
+    """Whether there are weights of the house, whose doors may have any number of primes."""
+    primes = primes_of(house)
+    _, times = _balance(round_rows(house, primes), len(primes))
+    return times is None
 
 
 def _is_part(house, thing):
@@ -92,7 +99,7 @@ def _primes_in(number):
     return found
 
 
-def _primes(house):
+def primes_of(house):
     """The ascending list of the primes that divide numbers of the doors."""
     met = {}
     for _, first, _, second in house.doors:
@@ -104,13 +111,13 @@ def _primes(house):
 def _few_primes(house):
     """The same; raises BadHouse, or TooMany for more primes than are let."""
     need_house(house)
-    primes = _primes(house)
+    primes = primes_of(house)
     if len(primes) > MOST_PRIMES:
         raise TooMany(MOST_PRIMES)
     return primes
 
 
-def _exponent(prime, number):
+def exponent_of(prime, number):
     """How often prime divides number, which is not 0."""
     times = 0
     while number % prime == 0:
@@ -121,22 +128,22 @@ def _exponent(prime, number):
 
 def _weight(weights, primes, number):
     """The weight of number."""
-    return sum([weight * _exponent(prime, number) for weight, prime in zip(weights, primes)])
+    return sum([weight * exponent_of(prime, number) for weight, prime in zip(weights, primes)])
 
 
-def _stretch(house, primes, passes):
+def stretch_of(house, primes, passes):
     """The exponents of the primes in the ratio of the passes."""
     total = [0 for _ in primes]
     for step in passes:
         _, leaving, _, arriving = ends_of(house, step)
-        risen = [_exponent(prime, arriving) - _exponent(prime, leaving) for prime in primes]
+        risen = [exponent_of(prime, arriving) - exponent_of(prime, leaving) for prime in primes]
         total = [whole + many for whole, many in zip(total, risen)]
     return total
 
 
-def _round_rows(house, primes):
+def round_rows(house, primes):
     """For each of round_walks the exponents of the primes in its ratio."""
-    return [_stretch(house, primes, walk[2]) for walk in round_walks(house)]
+    return [stretch_of(house, primes, walk[2]) for walk in round_walks(house)]
 
 
 def _balance(rows, width):
@@ -145,10 +152,31 @@ def _balance(rows, width):
     The pair (weights, None): each row, multiplied part by part with weights, sums up to 0; or
     (None, times): the rows, taken so many times, sum up to a row without parts below 0, but
     with one above 0. By Stiemke's theorem just one of both exists. Weights are sought as 1 more
-    than numbers from 0 on, by the first phase of the simplex method; where it finds none, its
-    last goal tells the times.
+    than numbers from 0 on; where there are none, the last goal tells the times.
     """
-    table = _first_table(rows, width)
+    rights = [-sum(row) for row in rows]
+    table, base, scale = _brought_down(rows, rights, width)
+    goal = table[-1]
+    if goal[-1] != 0:
+        times = [_sign(right) * (goal[width + at] - scale) for at, right in enumerate(rights)]
+        # A row of noughts adds nothing, so it is left out.
+        return (None, _lowest([many if any(row) else 0 for many, row in zip(times, rows)]))
+    weights = [scale for _ in range(width)]
+    for at, column in enumerate(base):
+        if column < width:
+            weights[column] += table[at][-1]
+    return (_lowest(weights), None)
+
+
+def can_be_solved(rows, rights, width):
+    """Whether some fractions from 0 on, multiplied part by part with each row, sum up to its right side."""
+    table, _, _ = _brought_down(rows, rights, width)
+    return table[-1][-1] == 0
+
+
+def _brought_down(rows, rights, width):
+    """(table, base, scale) behind the first phase of the simplex method."""
+    table = _first_table(rows, rights, width)
     base = [width + at for at in range(len(rows))]
     scale = 1
     column = _entering(table, width)
@@ -158,22 +186,15 @@ def _balance(rows, width):
         table = _pivoted(table, at, column, scale)
         scale = table[at][column]
         column = _entering(table, width)
-    goal = table[-1]
-    if goal[-1] != 0:
-        return (None, _told_times(rows, goal, width, scale))
-    weights = [scale for _ in range(width)]
-    for at, column in enumerate(base):
-        if column < width:
-            weights[column] += table[at][-1]
-    return (_lowest(weights), None)
+    return (table, base, scale)
 
 
-def _sign(row):
+def _sign(right):
     """The sign that a row gets in the table, so that its right side is not below 0."""
-    return -1 if sum(row) > 0 else 1
+    return -1 if right < 0 else 1
 
 
-def _first_table(rows, width):
+def _first_table(rows, rights, width):
     """The table of the first phase: parts, a column of its own for each row, the right side.
 
     The last row is the goal: what is left of all right sides, to be brought down to 0. All
@@ -182,8 +203,8 @@ def _first_table(rows, width):
     table = []
     for at, row in enumerate(rows):
         own = [1 if other == at else 0 for other in range(len(rows))]
-        signed = [_sign(row) * part for part in row]
-        table.append(signed + own + [-sum(signed)])
+        sign = _sign(rights[at])
+        table.append([sign * part for part in row] + own + [sign * rights[at]])
     goal = [-sum([line[column] for line in table]) for column in range(width)]
     goal = goal + [0 for _ in rows] + [-sum([line[-1] for line in table])]
     return table + [goal]
@@ -223,15 +244,6 @@ def _pivoted(table, at, column, scale):
         cleared.append([(worth * ours - less * theirs) // scale for ours, theirs in zip(row, pivot)])
     cleared[at] = pivot
     return cleared
-
-
-def _told_times(rows, goal, width, scale):
-    """How many times each row is taken, so that no part of the sum is below 0."""
-    times = []
-    for at, row in enumerate(rows):
-        # A row of noughts adds nothing, so it is left out.
-        times.append(_sign(row) * (goal[width + at] - scale) if any(row) else 0)
-    return _lowest(times)
 
 
 def _lowest(numbers):

@@ -202,3 +202,64 @@ def houses_by_chance(seed, many, **more):
     """So many pairs of a chance and a house."""
     chance = random.Random(seed)
     return [(chance, some_house(chance, **more)) for _ in range(many)]
+
+
+def go_over(house, state, step):
+    """The state to which the pass moves the state, or None."""
+    room, leaving, there, arriving = ends(house, step)
+    if room != state[0] or state[1] % leaving != 0:
+        return None
+    return there, state[1] // leaving * arriving
+
+
+def class_here(house, state, most):
+    """(states met by a search that ends behind so many, whether these are all)."""
+    met, at = [state], 0
+    known = {state}
+    while at < len(met) and len(met) <= most:
+        for step in all_passes(house):
+            there = go_over(house, met[at], step)
+            if there is not None and there not in known:
+                known.add(there)
+                met.append(there)
+        at += 1
+    return met, at == len(met)
+
+
+def some_state(chance, house, most=4):
+    """A state left to chance, whose number has factors of the doors."""
+    number = chance.choice((1, -1)) * chance.choice((1, 1, 5, 7))
+    for _ in range(chance.randint(0, most)):
+        number *= chance.choice([door[at] for door in house.doors for at in (1, 3)] or [2])
+    return chance.randrange(house.rooms), number
+
+
+def fill(pattern, number):
+    """The walk for k = number."""
+    room, pulls, passes = pattern
+    return room, tuple(times * number + more for times, more in pulls), passes
+
+
+def in_row(row, number):
+    first, step = row
+    return number == first if step == 0 else number % step == first
+
+
+def some_pattern(chance, house, passes, home=False, room=None):
+    """A pattern left to chance that is often nothing, or short, for some k."""
+    kind = chance.random()
+    if kind < 0.6 and room is None:
+        walk = some_nothing(chance, house, chance.randrange(0, passes + 1, 2))
+    else:
+        walk = some_walk(chance, house, chance.randint(0, passes), room=room, turns=0.7)
+    if home and rooms_of(house, walk)[-1] != walk[0]:
+        half = walk[0], walk[1][:len(walk[2]) // 2 + 1], walk[2][:len(walk[2]) // 2]
+        walk = put_together(half, turned_back(house, half))
+    number = chance.choice((0, 1, 2, 3, -5))
+    if kind < 0.2:
+        return walk[0], tuple((chance.choice((0, 0, 1, -1, 2)), pulls) for pulls in walk[1]), walk[2]
+    told = []
+    for pulls in walk[1]:
+        times = chance.choice((0, 0, 1, -1, 2, 3, 6))
+        told.append((times, pulls - times * number + chance.choice((0,) * 20 + (1,))))
+    return walk[0], tuple(told), walk[2]

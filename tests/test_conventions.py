@@ -3,7 +3,8 @@
 import copy
 import unittest
 
-from pulledrooms import cores, errors, forms, houses, ratios, texts, walks, weights
+from pulledrooms import (books, classes, cores, errors, forms, houses, moving, patterns, ratios, texts, walks,
+                         weights)
 from tests.helper import HUGE, NO_NUMBERS, ODD, PAIR, SINGLE
 
 WALK = (0, (1, 0, 4), ((0, 0), (0, 1)))
@@ -32,6 +33,23 @@ JUDGED = [("thing", right, None, ()) for right in (
     [0], [("cancel", 0)], BARE, (3, 2), (1, 1), ({2: 1, 3: 1}, (0, 0)), [(BARE, 1)])]
 SPOTS, MOVES, CORE, LENGTHS, SIGNS, WEIGHTS, GROWTH = JUDGED
 FEW = ("house", PAIR, errors.TooMany, (THIRTEEN,))
+NO_STATES = tuple(thing for thing in ODD if thing != (0, 1)) + ((0, 0), (2, 1), (0, True), (False, 1), [0, 1])
+STATE = ("state", (0, 12), errors.BadState, NO_STATES)
+OTHER_STATE = ("other", (1, 18), errors.BadState, NO_STATES)
+FEW_DOORS = ("house", PAIR, errors.TooMany, (houses.House(2, PAIR.doors * 2 + ((0, 1, 0, 1),)),))
+BOOK = books.book_of(PAIR)
+WAY, RULE, BOOK_JUDGED = [("thing", right, None, ()) for right in (((0, 0),), BOOK[0], BOOK)]
+ROWS = [(0, 4), (2, 4), (3, 0)]
+NO_ROWS = tuple(thing for thing in ODD if thing not in ([], ())) + ((0, 4), [(4, 4)], [[0, 4]], [(True, 4)], [(0, 1)] * 201)
+ROWS_TOLD = ("rows", ROWS, errors.BadRows, NO_ROWS)
+MORE_ROWS = ("more", [(0, 3), (3, 6)], errors.BadRows, NO_ROWS)
+NUMBER = ("number", -7, errors.BadNumber, NO_NUMBERS)
+PATTERN = (0, ((0, 0), (1, 0), (0, -3)), WALK[2])
+NO_PATTERNS = ODD + (WALK, list(PATTERN), (0, ((0, 0), [1, 0], (0, -3)), WALK[2]), (False,) + PATTERN[1:],
+                     (0, ((0, 0), (1, 1000), (0, -3)), WALK[2]), (0, ((0, 0),) * 11, WALK[2] * 5))
+PATTERNED = ("pattern", PATTERN, errors.BadPattern, NO_PATTERNS)
+HOME_PATTERN = ("pattern", PATTERN, errors.NotHome, ((0, ((0, 0), (1, 0)), WALK[2][:1]),))
+OTHER_PATTERN = ("other", (0, ((1, -3),), ()), errors.BadPattern, NO_PATTERNS)
 
 # A function and, for each parameter from left to right, its name, a right value, the error for wrong ones, wrong ones.
 # A parameter that has two errors stands there twice.
@@ -82,7 +100,37 @@ CALLS = [
     (weights.weights_of, [HOUSE, FEW]),
     (weights.is_growth, [HOUSE, GROWTH]),
     (weights.growth_of, [HOUSE, FEW]),
+    (moving.is_state, [HOUSE, THING]),
+    (moving.next_states, [HOUSE, STATE]),
+    (moving.moved_by, [HOUSE, STATE, WAY]),
+    (moving.endless_pair, [HOUSE, STATE]),
+    (moving.class_of, [HOUSE, STATE]),
+    (books.is_rule, [HOUSE, RULE]),
+    (books.led_by, [HOUSE, ("rules", BOOK, errors.BadRules, NO_ROWS), STATE]),
+    (books.is_book, [HOUSE, FEW_DOORS, BOOK_JUDGED]),
+    (books.book_of, [HOUSE, FEW_DOORS]),
+    (books.least_state, [HOUSE, STATE, FEW_DOORS]),
+    (books.are_moved, [HOUSE, STATE, OTHER_STATE, FEW_DOORS]),
+    (books.rule_way, [HOUSE, FEW_DOORS, ("rule", BOOK[0], errors.BadRule, ODD + (BOOK[0][::-1], list(BOOK[0])))]),
+    (books.way_down, [HOUSE, STATE, FEW_DOORS]),
+    (books.moved_way, [HOUSE, STATE, OTHER_STATE, FEW_DOORS]),
+    (classes.in_rows, [ROWS_TOLD, NUMBER]),
+    (classes.rows_met, [ROWS_TOLD, MORE_ROWS]),
+    (classes.rows_together, [ROWS_TOLD, MORE_ROWS]),
+    (classes.rows_within, [ROWS_TOLD, MORE_ROWS]),
+    (classes.same_rows, [ROWS_TOLD, MORE_ROWS]),
+    (classes.least_rows, [ROWS_TOLD, ("rows", ROWS, errors.TooMany, ([(0, 2001)],))]),
+    (patterns.is_pattern, [HOUSE, THING]),
+    (patterns.filled, [HOUSE, PATTERNED, NUMBER]),
+    (patterns.nothing_for, [HOUSE, PATTERNED, HOME_PATTERN]),
+    (patterns.one_for, [HOUSE, PATTERNED, OTHER_PATTERN, ("other", PATTERN, errors.Elsewhere, ((1, ((0, 0),), ()),))]),
+    (patterns.pairings, [HOUSE, PATTERNED, HOME_PATTERN]),
+    (patterns.paired_for, [HOUSE, PATTERNED, HOME_PATTERN,
+                           ("pairing", (1, 0), errors.BadPairing, ODD + ([1, 0], (True, 0), (0, 0), ()))]),
+    (patterns.shortest_for, [HOUSE, PATTERNED]),
 ]
+# What stands last for functions that judge any value.
+JUDGES = [THING, WAY, RULE, BOOK_JUDGED] + JUDGED
 
 
 def right_values(places):
@@ -129,15 +177,16 @@ class Conventions(unittest.TestCase):
 
     def test_any_value_is_judged(self):
         for asked, places in CALLS:
-            if places[-1] not in [THING] + JUDGED:
+            if places[-1] not in JUDGES:
                 continue
             for thing in NO_WALKS[len(ODD):] + NO_HOUSES + NO_MOVES:
                 with self.subTest(asked=asked.__name__, thing=thing):
-                    self.assertIs(asked(**{**right_values(places), "thing": thing}), False)
+                    wanted = None if asked is moving.moved_by else asked is moving.is_state and repr(thing) == "(0, 1)"
+                    self.assertIs(asked(**{**right_values(places), "thing": thing}), wanted)
 
     def test_the_house_is_checked_ahead_of_what_is_judged(self):
         for asked, places in CALLS:
-            if places[-1] not in [THING] + JUDGED:
+            if places[-1] not in JUDGES:
                 continue
             for thing in ODD:
                 with self.subTest(asked=asked.__name__, thing=thing), self.assertRaises(errors.BadHouse):

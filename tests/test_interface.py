@@ -24,9 +24,20 @@ INTERFACE = {
               "are_signs(house, thing), signs_of(house), turning_walk(house), carried_along(house, number, walk), "
               "kept_pulls(house)",
     "weights": "are_weights(house, thing), weights_of(house), is_growth(house, thing), growth_of(house)",
+    "moving": "is_state(house, thing), next_states(house, state), moved_by(house, state, thing), "
+              "endless_pair(house, state), class_of(house, state)",
+    "books": "is_rule(house, thing), led_by(house, rules, state), is_book(house, thing), book_of(house), "
+             "least_state(house, state), are_moved(house, state, other), rule_way(house, rule), "
+             "way_down(house, state), moved_way(house, state, other)",
+    "classes": "is_row(thing), are_rows(thing), in_rows(rows, number), rows_met(rows, more), "
+               "rows_together(rows, more), rows_within(rows, more), same_rows(rows, more), least_rows(rows)",
+    "patterns": "is_pattern(house, thing), filled(house, pattern, number), nothing_for(house, pattern), "
+                "one_for(house, pattern, other), pairings(house, pattern), paired_for(house, pattern, pairing), "
+                "shortest_for(house, pattern)",
 }
-# Each module imports only from those that stand ahead of it; checks is a further one.
-ORDER = ("errors", "checks", "houses", "walks", "texts", "forms", "cores", "ratios", "weights")
+# Each module imports only from those that stand ahead of it; checks and lines are further ones.
+ORDER = ("errors", "checks", "houses", "walks", "texts", "forms", "cores", "ratios", "weights", "moving", "books",
+         "classes", "lines", "patterns")
 
 
 class Interface(unittest.TestCase):
