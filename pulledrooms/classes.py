@@ -121,8 +121,6 @@ def _has(row, number):
 
 def _both(row, other):
     """The list of at most one row of the numbers that both rows have."""
-    if row[1] == 0:
-        return [row] if _has(other, row[0]) else []
     if other[1] == 0:
         return [other] if _has(row, other[0]) else []
     first, step = row
@@ -161,7 +159,7 @@ def inverse(number, modulus):
 def _least_step(marks):
     """The least number of places by which the marks, told round and round, can be moved on."""
     for step in range(1, len(marks)):
-        if len(marks) % step == 0 and marks[step:] + marks[:step] == marks:
+        if marks[step:] + marks[:step] == marks:
             return step
     return len(marks)
 
@@ -170,9 +168,9 @@ def _lie_within(rows, more):
     """What rows_within tells, of what surely are lists of rows."""
     steady = [row for row in more if row[1] > 0]
     for row in tidied(rows):
-        # A row with a step has endlessly many numbers or none beside those of the steady rows.
-        if row[1] == 0 and not have_number(more, row[0]):
+        if not have_number(more, row[0]):
             return False
+        # Of a row with a step the steady rows leave endlessly many numbers or none.
         if row[1] > 0 and not _have_all(_seen_along(row, steady)):
             return False
     return True

@@ -2,7 +2,9 @@
 
 import random
 from fractions import Fraction
+from math import gcd, lcm
 
+from pulledrooms.halls import Hall
 from pulledrooms.houses import House
 
 SINGLE = House(1, ((0, 2, 0, 3),))
@@ -263,3 +265,103 @@ def some_pattern(chance, house, passes, home=False, room=None):
         times = chance.choice((0, 0, 1, -1, 2, 3, 6))
         told.append((times, pulls - times * number + chance.choice((0,) * 20 + (1,))))
     return walk[0], tuple(told), walk[2]
+
+
+def rounds_here(rope):
+    """The rounds of a rope, each a list of seats as pulls lead them."""
+    rounds, left = [], set(range(len(rope)))
+    while left:
+        seats = [min(left)]
+        while rope[seats[-1]] != seats[0]:
+            seats.append(rope[seats[-1]])
+        rounds.append(seats)
+        left -= set(seats)
+    return rounds
+
+
+def lead_seat(hall, walk, seat):
+    """The seat to which the walk leads seat, pull by pull and pass by pass."""
+    for at, pulls in enumerate(walk[1]):
+        rope = hall.ropes[rooms_of(hall.house, walk)[at]]
+        for _ in range(abs(pulls)):
+            seat = rope[seat] if pulls > 0 else rope.index(seat)
+        if at < len(walk[2]):
+            door, side = walk[2][at]
+            seat = hall.ways[door].index(seat) if side else hall.ways[door][seat]
+    return seat
+
+
+def pull_all(rope, times):
+    """The arrangement of so many pulls."""
+    seats = list(range(len(rope)))
+    for _ in range(abs(times)):
+        seats = [rope[seat] if times > 0 else rope.index(seat) for seat in seats]
+    return tuple(seats)
+
+
+def fit_here(doors, numbers):
+    """Whether the numbers of the rooms fit the doors."""
+    return all(numbers[near] // gcd(numbers[near], first) == numbers[far] // gcd(numbers[far], second)
+               for near, first, far, second in doors)
+
+
+def fitting_here(house, most):
+    """The fitting numbers of the house up to most."""
+    found = [()]
+    for room in range(house.rooms):
+        doors = [door for door in house.doors if max(door[0], door[2]) <= room]
+        found = [row + (number,) for row in found for number in range(1, most + 1) if fit_here(doors, row + (number,))]
+    return found
+
+
+def some_hall(chance, house, most=4, parts=2):
+    """A Hall left to chance: ropes with rounds of fitting lengths, and ways that lead such rounds over."""
+    ropes = [[] for _ in range(house.rooms)]
+    for _ in range(chance.randint(1, parts)):
+        fitting = chance.choice(fitting_here(house, most))
+        for room, length in enumerate(fitting):
+            for _ in range(lcm(*fitting) // length):
+                ropes[room].append(length)
+    seats = sum(ropes[0])
+    ropes = [some_rope(chance, seats, lengths) for lengths in ropes]
+    ways = []
+    for near, first, far, second in house.doors:
+        way = [None] * seats
+        theirs = rounds_here(pull_all(ropes[far], second))
+        chance.shuffle(theirs)
+        for ours in rounds_here(pull_all(ropes[near], first)):
+            other = next(each for each in theirs if len(each) == len(ours))
+            theirs.remove(other)
+            turn = chance.randrange(len(ours))
+            for seat, there in zip(ours, other[turn:] + other[:turn]):
+                way[seat] = there
+        ways.append(tuple(way))
+    return Hall(house, tuple(ropes), tuple(ways))
+
+
+def some_rope(chance, seats, lengths):
+    """A rope left to chance that has rounds of these lengths."""
+    order = list(range(seats))
+    chance.shuffle(order)
+    rope = [None] * seats
+    for length in lengths:
+        seats, order = order[:length], order[length:]
+        for at, seat in enumerate(seats):
+            rope[seat] = seats[(at + 1) % length]
+    return tuple(rope)
+
+
+PRIMES = [prime for prime in range(2, 1000) if all(prime % part for part in range(2, prime))]
+
+
+def primes_here(house):
+    numbers = [number for door in house.doors for number in (door[1], door[3])]
+    return [prime for prime in PRIMES if any(number % prime == 0 for number in numbers)]
+
+
+def times_in(prime, number):
+    """How often the prime divides the number."""
+    times = 0
+    while number % prime == 0:
+        number, times = number // prime, times + 1
+    return times

@@ -101,6 +101,17 @@ class Lists(unittest.TestCase):
             within.append((inside, around))
         self.assertGreater(min(within.count((one, other)) for one in (True, False) for other in (True, False)), 50)
 
+    def test_nearly_all_numbers(self):
+        chance = random.Random(64)
+        told = []
+        for _ in range(1500):
+            steps = chance.choice(((4, 6, 8, 12), (2, 4, 8, 16), (6, 9, 18, 12), (5, 10, 3, 6), (3, 9, 27), (4, 6, 10, 15)))
+            rows = [row for row in some_rows(chance, 40, steps) if chance.random() < 0.8]
+            right = all(has(rows, number) for number in range(lcm(*steps)))
+            self.assertIs(rows_within([(0, 1)], rows), right, rows)
+            told.append(right)
+        self.assertTrue(200 < told.count(True) < 1300)
+
     def test_example(self):
         self.assertEqual(least_rows(EXAMPLE), [(0, 2), (3, 0)])
         met = rows_met(EXAMPLE, [(0, 3), (3, 6)])

@@ -3,8 +3,8 @@
 import copy
 import unittest
 
-from pulledrooms import (books, classes, cores, errors, forms, houses, moving, patterns, ratios, texts, walks,
-                         weights)
+from pulledrooms import (books, classes, cores, errors, everyk, forms, halls, houses, moving, patterns, ratios,
+                         returns, texts, walks, weights, wide)
 from tests.helper import HUGE, NO_NUMBERS, ODD, PAIR, SINGLE
 
 WALK = (0, (1, 0, 4), ((0, 0), (0, 1)))
@@ -49,6 +49,20 @@ NO_PATTERNS = ODD + (WALK, list(PATTERN), (0, ((0, 0), [1, 0], (0, -3)), WALK[2]
                      (0, ((0, 0), (1, 1000), (0, -3)), WALK[2]), (0, ((0, 0),) * 11, WALK[2] * 5))
 PATTERNED = ("pattern", PATTERN, errors.BadPattern, NO_PATTERNS)
 HOME_PATTERN = ("pattern", PATTERN, errors.NotHome, ((0, ((0, 0), (1, 0)), WALK[2][:1]),))
+DOUBLE = houses.House(1, ((0, 1, 0, 2),))
+HALL = halls.Hall(DOUBLE, ((1, 2, 0),), ((0, 2, 1),))
+HALLED = ("hall", HALL, errors.BadHall, ODD + (DOUBLE, HALL.ropes, halls.Hall))
+SEAT = ("seat", 2, errors.BadSeat, NO_NUMBERS + (-1, 3, HUGE))
+OTHER_HALL = ("other", halls.Hall(DOUBLE, ((0,),), ((0,),)), errors.BadHall, ODD)
+HALL_WALK = ("walk", (0, (HUGE, 0, 4), ((0, 0), (0, 1))), errors.BadWalk, NO_WALKS + ((0, (0, 0), ((1, 0),)),))
+HALL_PATTERN = ("pattern", PATTERN, errors.BadPattern, NO_PATTERNS + ((1, ((0, 0),), ()),))
+FIVE_PASSES = (0, ((1, 0),) * 6, ((0, 0),) * 2 + ((0, 1),) * 3)
+DEEP = houses.House(1, ((0, 4, 0, 6),))
+DEEP_HOUSE = ("house", DEEP, errors.BadHouse, NO_HOUSES)
+WIDE = (0, ((0, 1), (1, (3, 2)), (0, 0)), ((0, 0), (0, 1)))
+NO_WIDE = ODD + (WALK, list(WIDE), (0, ((0, 1), (2, 1), (0, 0)), WIDE[2]), (0, ((0, 1), (0, (2, 4)), (0, 0)), WIDE[2]))
+WIDE_TOLD = ("wide", (0, ((0, 1), (0, (9, 2)), (0, 0)), WIDE[2]), errors.BadWide, NO_WIDE)
+FITTING, SPOTS_JUDGED = [("thing", right, None, ()) for right in ((5,), [0, 0])]
 OTHER_PATTERN = ("other", (0, ((1, -3),), ()), errors.BadPattern, NO_PATTERNS)
 
 # A function and, for each parameter from left to right, its name, a right value, the error for wrong ones, wrong ones.
@@ -128,9 +142,39 @@ CALLS = [
     (patterns.paired_for, [HOUSE, PATTERNED, HOME_PATTERN,
                            ("pairing", (1, 0), errors.BadPairing, ODD + ([1, 0], (True, 0), (0, 0), ()))]),
     (patterns.shortest_for, [HOUSE, PATTERNED]),
+    (halls.Hall, [("house", DOUBLE, errors.BadHouse, NO_HOUSES),
+                  ("ropes", HALL.ropes, errors.BadRopes, ODD + (list(HALL.ropes), ([1, 2, 0],), ((0, True),), ((),))),
+                  ("ways", HALL.ways, errors.BadWays, ODD + ((), list(HALL.ways), ((0, 1),), ([0, 2, 1],)))]),
+    (halls.led_seat, [HALLED, HALL_WALK, SEAT]),
+    (halls.arrangement_of, [HALLED, HALL_WALK]),
+    (halls.halls_many, [HOUSE, ("seats", 3, errors.BadSeats, NO_NUMBERS + (0, 6, HUGE)),
+                        ("seats", 3, errors.TooMany, (5,))]),
+    (halls.parting_hall, [HOUSE, WALKED, ROUND, ("most", 2, errors.BadMost, NO_NUMBERS + (0, 4, HUGE)),
+                          ("house", PAIR, errors.TooMany, (houses.House(2, PAIR.doors * 2 + ((0, 1, 0, 1),)),))]),
+    (halls.halls_beside, [HALLED, OTHER_HALL, ("other", HALL, errors.Elsewhere,
+                                               (halls.Hall(houses.House(1, ()), ((0,),), ()),))]),
+    (returns.returns_of, [HALLED]),
+    (returns.are_fitting, [DEEP_HOUSE, FITTING]),
+    (returns.hall_of_returns, [DEEP_HOUSE, ("fitting", (10,), errors.BadFitting, ODD + ((4,), (0,), [10], (True,))),
+                               ("fitting", (10,), errors.TooMany, ((5003,),))]),
+    (returns.greatest_power, [DEEP_HOUSE, ("prime", 2, errors.BadPrime, NO_NUMBERS + (0, 1, 4, 1009, HUGE))]),
+    (returns.bounded_primes, [HOUSE]),
+    (returns.deep_part, [HOUSE]),
+    (wide.wide_arrived, [DEEP_HOUSE, ("thing", (0, 1), errors.BadPass, NO_PASSES),
+                         ("wide", (0, (3, 2)), errors.BadWide, NO_STATES[:-5] + ((2, 1), (0, (2, 4)), (0, (1, 5))))]),
+    (wide.is_wide, [DEEP_HOUSE, THING]),
+    (wide.as_wide, [HOUSE, WALKED]),
+    (wide.wide_spots, [DEEP_HOUSE, WIDE_TOLD]),
+    (wide.wide_shortened, [DEEP_HOUSE, WIDE_TOLD, ("spot", 0, errors.BadSpot, NO_SPOTS + (1,))]),
+    (wide.dead_spots, [HOUSE, WALKED, ROUND]),
+    (wide.is_dead, [HOUSE, WALKED, ROUND]),
+    (wide.are_dead_spots, [HOUSE, WALKED, ROUND, SPOTS_JUDGED]),
+    (everyk.forms_for, [DEEP_HOUSE, HALL_PATTERN, ("pattern", PATTERN, errors.TooMany, (FIVE_PASSES,))]),
+    (everyk.seat_for, [HALLED, HALL_PATTERN, ("pattern", PATTERN, errors.NotHome, ()), SEAT]),
+    (everyk.dead_for, [HOUSE, PATTERNED, HOME_PATTERN]),
 ]
 # What stands last for functions that judge any value.
-JUDGES = [THING, WAY, RULE, BOOK_JUDGED] + JUDGED
+JUDGES = [THING, WAY, RULE, BOOK_JUDGED, FITTING, SPOTS_JUDGED] + JUDGED
 
 
 def right_values(places):

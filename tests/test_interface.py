@@ -34,10 +34,18 @@ INTERFACE = {
     "patterns": "is_pattern(house, thing), filled(house, pattern, number), nothing_for(house, pattern), "
                 "one_for(house, pattern, other), pairings(house, pattern), paired_for(house, pattern, pairing), "
                 "shortest_for(house, pattern)",
+    "halls": "Hall(house, ropes, ways), led_seat(hall, walk, seat), arrangement_of(hall, walk), "
+             "halls_many(house, seats), parting_hall(house, walk, most), halls_beside(hall, other)",
+    "returns": "returns_of(hall), are_fitting(house, thing), hall_of_returns(house, fitting), "
+               "greatest_power(house, prime), bounded_primes(house), deep_part(house)",
+    "wide": "wide_arrived(house, thing, wide), is_wide(house, thing), as_wide(house, walk), wide_spots(house, wide), "
+            "wide_shortened(house, wide, spot), dead_spots(house, walk), is_dead(house, walk), "
+            "are_dead_spots(house, walk, thing)",
+    "everyk": "forms_for(house, pattern), seat_for(hall, pattern, seat), dead_for(house, pattern)",
 }
 # Each module imports only from those that stand ahead of it; checks and lines are further ones.
 ORDER = ("errors", "checks", "houses", "walks", "texts", "forms", "cores", "ratios", "weights", "moving", "books",
-         "classes", "lines", "patterns")
+         "classes", "lines", "patterns", "halls", "returns", "wide", "everyk")
 
 
 class Interface(unittest.TestCase):
@@ -72,6 +80,12 @@ class Interface(unittest.TestCase):
     def test_a_house_has_its_attributes(self):
         house = importlib.import_module("pulledrooms.houses").House(2, ((0, 2, 1, 3),))
         self.assertEqual((house.rooms, house.doors), (2, ((0, 2, 1, 3),)))
+
+    def test_a_hall_has_its_attributes(self):
+        halls = importlib.import_module("pulledrooms.halls")
+        house = importlib.import_module("pulledrooms.houses").House(1, ((0, 1, 0, 2),))
+        hall = halls.Hall(house, ((1, 2, 0),), ((0, 2, 1),))
+        self.assertEqual((hall.house, hall.ropes, hall.ways, hall.seats), (house, ((1, 2, 0),), ((0, 2, 1),), 3))
 
 
 if __name__ == "__main__":

@@ -9,7 +9,8 @@ import unittest
 import pulledrooms
 
 FOLDER = os.path.dirname(pulledrooms.__file__)
-LIBRARY = {"heapq": {"heappush", "heappop"}, "math": {"gcd", "lcm", "isqrt", "comb", "perm", "factorial"}}
+LIBRARY = {"heapq": {"heappush", "heappop"}, "math": {"gcd", "lcm", "isqrt", "comb", "perm", "factorial"},
+           "itertools": {"permutations"}}
 LET = set("""len range enumerate zip min max sum abs sorted reversed int str bool bytes list tuple dict isinstance
 ord repr any all divmod Exception ValueError TypeError KeyError IndexError LookupError ZeroDivisionError ArithmeticError
 OverflowError RuntimeError NotImplementedError AttributeError super""".split())

@@ -8,7 +8,8 @@ from pulledrooms.errors import TooMany
 from pulledrooms.houses import House
 from pulledrooms.ratios import lengths_of
 from pulledrooms.weights import are_weights, growth_of, is_growth, weights_of
-from tests.helper import ALONE, HUGE, ODD, PAIR, RING, SINGLE, TWINS, ends, houses_by_chance, rooms_of, some_house
+from tests.helper import (ALONE, HUGE, ODD, PAIR, RING, SINGLE, TWINS, ends, houses_by_chance, primes_here, rooms_of,
+                          some_house)
 
 GROWING = House(1, ((0, 2, 0, 3), (0, 1, 0, 6)))
 CHAIN = House(1, ((0, 2, 0, 3), (0, 3, 0, 8)))
@@ -19,12 +20,6 @@ BY_HAND = {2: 1, 3: 1, 5: 1, 7: 1, 11: 2, 13: 2, 17: 1, 19: 1, 23: 1, 29: 1, 31:
 
 def bare(*passes):
     return (0, (0,) * (len(passes) + 1), passes)
-
-
-def primes_here(house):
-    numbers = [number for door in house.doors for number in (door[1], door[3])]
-    return [prime for prime in range(2, 1000) if all(prime % part for part in range(2, prime))
-            and any(number % prime == 0 for number in numbers)]
 
 
 def weight_here(weights, number):
