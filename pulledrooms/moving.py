@@ -9,6 +9,7 @@ from pulledrooms.weights import can_be_solved, exponent_of, have_weights, primes
 MOST_STATES = 5000
 FIRST_LOOK = 100
 WIDER_LOOK = 4
+MOST_NEAR = 100
 
 
 def is_state(house, thing):
@@ -104,38 +105,39 @@ def _neighbours(house, state):
 def _search(house, state, look):
     """(pair or None, states found, whether these are the whole class) of a search that ends behind look states.
 
-    A pair are two states, one of which was come to from the other, whose numbers in one room
-    divide one another: so one of them can be moved on to the other again and again.
+    A pair are two states found, whose numbers in one room divide one another: so the one can be
+    moved on to the other, and from there again and again. In an endless class there is such a
+    state for the first one already; the others near it let the search find one sooner.
     """
-    came = {state: None}
+    found = {state: True}
+    near = {state[0]: [state[1]]}
     fresh = [state]
-    while fresh and len(came) <= look:
+    while fresh and len(found) <= look:
         later = []
         for here in fresh:
             for there in _neighbours(house, here):
-                if there in came:
+                if there in found:
                     continue
-                came[there] = here
-                pair = _pair_above(came, there)
+                found[there] = True
+                others = near.setdefault(there[0], [])
+                pair = _pair_among(there, others)
                 if pair is not None:
-                    return (pair, list(came), False)
+                    return (pair, list(found), False)
+                if len(others) < MOST_NEAR:
+                    others.append(there[1])
                 later.append(there)
         fresh = later
-    return (None, list(came), not fresh)
+    return (None, list(found), not fresh)
 
 
-def _pair_above(came, state):
-    """The endless pair of the state and of one by which the search came to it, or None."""
+def _pair_among(state, others):
+    """The endless pair of the state and one of the other numbers in its room, or None."""
     room, number = state
-    other = came[state]
-    while other is not None:
-        there, found = other
-        if there == room and abs(found) != abs(number):
-            if number % found == 0:
-                return (room, found, number // found)
-            if found % number == 0:
-                return (room, number, found // number)
-        other = came[other]
+    for other in others:
+        if number % other == 0 and abs(number) != abs(other):
+            return (room, other, number // other)
+        if other % number == 0 and abs(number) != abs(other):
+            return (room, number, other // number)
     return None
 
 

@@ -1,4 +1,4 @@
-"""[42], [43] Rules, books, least states and the ways to them."""
+"""[2] (c), [42], [43] Rules, books, least states and the ways to them."""
 
 import random
 import unittest

@@ -1,4 +1,4 @@
-"""[63], [64] Patterns for all k: plain forms, seats led, dead walks."""
+"""[2] (e), [63], [64] Patterns for all k: plain forms, seats led, dead walks."""
 
 import random
 import unittest

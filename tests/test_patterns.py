@@ -1,4 +1,4 @@
-"""[61], [62] Patterns: walks with k pulls in them."""
+"""[2] (e), [61], [62] Patterns: walks with k pulls in them."""
 
 import itertools
 import random

@@ -1,4 +1,4 @@
-"""[72] Returns of ropes, fitting numbers, bounded primes."""
+"""[2] (f), [72] Returns of ropes, fitting numbers, bounded primes."""
 
 import itertools
 import random

@@ -1,8 +1,9 @@
-"""[73], [74] Fine numbers, wide pulls and wide walks, dead walks."""
+"""[2] (g), [73], [74] Fine numbers, wide pulls and wide walks, dead walks."""
 
 import random
 import unittest
 from fractions import Fraction
+from math import gcd, lcm
 
 from pulledrooms.errors import BadHouse, BadPass, BadSpot, BadWalk, BadWide, NotHome
 from pulledrooms.forms import is_nothing, is_plain, plain_form
@@ -11,8 +12,9 @@ from pulledrooms.houses import House
 from pulledrooms.returns import bounded_primes, deep_part
 from pulledrooms.wide import (are_dead_spots, as_wide, dead_spots, is_dead, is_wide, wide_arrived, wide_shortened,
                               wide_spots)
-from tests.helper import (ALONE, HUGE, ODD, PAIR, SINGLE, all_passes, ends, houses_by_chance, lead_seat,
-                          put_together, rooms_of, some_hall, some_nothing, some_round, some_walk, turned_back)
+from tests.helper import (ALONE, HUGE, ODD, PAIR, SINGLE, all_passes, ends, fit_here, fitting_here, houses_by_chance,
+                          lead_seat, put_together, rooms_of, some_hall, some_nothing, some_round, some_walk, turned_back,
+                          way_between)
 
 DEAD = (0, (1, 1, -1, -1, 0), ((0, 1), (0, 0), (0, 1), (0, 0)))
 DEEP = House(1, ((0, 4, 0, 6), (0, 5, 0, 5)))
@@ -82,6 +84,63 @@ def shorten_here(house, wide, spot):
     three = (wides[spot], arrived, wides[spot + 2])
     both = (sum(rest for rest, _ in three) % depth, fine_of(sum(worth(fine) for _, fine in three)))
     return room, wides[:spot] + (both,) + wides[spot + 3:], passes[:spot] + passes[spot + 2:]
+
+
+def plain_lengths(house):
+    """(lengths that fit the plain parts of the doors' numbers, least common multiple of what the doors make of them)."""
+    primes = bounded_primes(house)
+    lengths = []
+    for room in range(house.rooms):
+        length = Fraction(1)
+        for step in way_between(house, 0, room):
+            _, leaving, _, arriving = ends(house, step)
+            length = length * plain(primes, leaving) / plain(primes, arriving)
+        lengths.append(length)
+    scale = lcm(*[length.denominator for length in lengths])
+    divisor = gcd(*[int(length * scale) for length in lengths])
+    lengths = [int(length * scale) // divisor for length in lengths]
+    return lengths, lcm(*[plain(primes, first) * lengths[near] for near, first, _, _ in house.doors])
+
+
+def plain(primes, number):
+    for prime in primes:
+        while number % prime == 0:
+            number //= prime
+    return abs(number)
+
+
+def telling_numbers(house, walk):
+    """Fitting numbers: if any hall shows the walk, one whose rounds are so long does ([75])."""
+    wide, spot = as_wide(house, walk), 0
+    while spot < len(wide[2]):
+        shorter = shorten_here(house, wide, spot)
+        wide, spot = (wide, spot + 1) if shorter is None else (shorter, 0)
+    lengths, common = plain_lengths(house)
+    times = 1
+    (rest, fine), top = wide[1][-1], worth(wide[1][-1][1]).numerator
+    if not wide[2] and rest == 0 and fine != 0:
+        while any(times % prime == 0 for prime in bounded_primes(house)) or top % (common * times // lengths[walk[0]]) == 0:
+            times += 1
+    return tuple(deep * common * times // length for deep, length in zip(deep_part(house), lengths))
+
+
+def left_by_rests(house, numbers, walk):
+    """(passes, last rest) that are left of the walk when pulls are told apart only by their rests."""
+    rooms = rooms_of(house, walk)
+    kept, aheads = [], []
+    here = walk[1][0] % numbers[walk[0]]
+    for at, step in enumerate(walk[2]):
+        room, leaving, there, arriving = ends(house, step)
+        tried = [times for times in range(numbers[room]) if (leaving * times - here) % numbers[room] == 0]
+        if kept and kept[-1] == (step[0], 1 - step[1]) and tried:
+            kept.pop()
+            here = aheads.pop() + arriving * tried[0]
+        else:
+            kept.append(step)
+            aheads.append(here)
+            here = 0
+        here = (here + walk[1][at + 1]) % numbers[rooms[at + 1]]
+    return kept, here
 
 
 class WidePulls(unittest.TestCase):
@@ -277,6 +336,20 @@ class Dead(unittest.TestCase):
                 self.assertIs(is_dead(house, walk), False)
                 shown += 1
         self.assertGreater(shown, 100)
+
+    def test_just_one_of_dead_and_shown(self):
+        told = []
+        for chance, house, walk in self.walks():
+            numbers = telling_numbers(house, walk)
+            self.assertTrue(fit_here(house.doors, numbers))
+            if max(numbers) < 3000:
+                dead = is_dead(house, walk)
+                self.assertIs(left_by_rests(house, numbers, walk) == ([], 0), dead)
+                told.append(dead)
+                if dead:
+                    for numbers in chance.sample(fitting_here(house, 4), 1):
+                        self.assertEqual(left_by_rests(house, numbers, walk), ([], 0))
+        self.assertGreater(min(told.count(True), told.count(False)), 150)
 
     def test_facts(self):
         for chance, house, walk in self.walks():
