@@ -2,6 +2,7 @@
 
 import random
 import unittest
+from math import gcd
 
 from pulledrooms.classes import is_row, rows_within
 from pulledrooms.errors import BadHall, BadHouse, BadPattern, BadSeat, NotHome, TooMany
@@ -11,7 +12,7 @@ from pulledrooms.halls import Hall
 from pulledrooms.houses import House
 from pulledrooms.patterns import nothing_for, shortest_for
 from pulledrooms.ratios import lengths_of
-from pulledrooms.returns import returns_of
+from pulledrooms.returns import deep_part, returns_of
 from pulledrooms.wide import is_dead
 from tests.helper import (ALONE, HUGE, ODD, PAIR, SINGLE, ends, fill, houses_by_chance, in_row, lead_seat, rooms_of,
                           some_hall, some_pattern)
@@ -19,6 +20,9 @@ from tests.helper import (ALONE, HUGE, ODD, PAIR, SINGLE, ends, fill, houses_by_
 DOUBLE = House(1, ((0, 1, 0, 2),))
 EXAMPLE = (0, ((0, 0), (1, 0), (0, -3)), ((0, 0), (0, 1)))
 DEEP = House(1, ((0, 4, 0, 6), (0, 5, 0, 5)))
+# Houses of one or two rooms whose deep parts are above 1; in some of them not all primes are bounded.
+RESTS = (House(1, ((0, 4, 0, 6),)), House(1, ((0, 9, 0, 6),)), House(1, ((0, 20, 0, 30),)), House(1, ((0, 45, 0, 30),)),
+         House(1, ((0, 16, 0, 24),)), House(1, ((0, 54, 0, -27),)), House(2, ((0, 4, 1, 6), (0, 10, 1, 15), (1, 9, 1, 27))))
 KS = tuple(range(-25, 26)) + (72, -144)
 GREAT_KS = (10 ** 20, -6 ** 30, HUGE, 10 ** 60 - 16)
 
@@ -181,9 +185,10 @@ class Dead(unittest.TestCase):
         for chance, house in houses_by_chance(102, 250, most_rooms=3, numbers=(1, 2, 3, 4, 6)):
             told.append(self.judged(house, some_pattern(chance, house, 8, home=True)))
         chance = random.Random(103)
-        for _ in range(200):
-            house = chance.choice((SINGLE, DEEP, PAIR, House(1, ((0, 4, 0, 6),)), House(1, ((0, 6, 0, 10),))))
-            told.append(self.judged(house, self.commuting(chance, house)))
+        for house in (SINGLE, DEEP, PAIR) + RESTS:
+            for _ in range(40):
+                told.append(self.judged(house, self.commuting(chance, house)))
+                told.append(self.judged(house, self.led_over(chance, house)))
         self.assertGreater(told.count((True, True)), 15)
         self.assertGreater(told.count((False, True)), 15)
         self.assertGreater(told.count((False, False)), 15)
@@ -197,6 +202,27 @@ class Dead(unittest.TestCase):
         times, more = chance.choice((0, 1, 2, 3, -4)), chance.randint(-3, 3)
         one, other = (times, more), (chance.choice((0, 0, 1, 2)), chance.randint(-4, 4))
         return room, ((0, 0), one, other, (-one[0], -one[1]), (-other[0], -other[1])), (step, there, step, there)
+
+    def led_over(self, chance, house):
+        """Pulls with k led over a pass, less what they arrive as; sometimes less some more."""
+        step = chance.choice([(door, side) for door in range(len(house.doors)) for side in (0, 1)])
+        room, leaving, _, arriving = ends(house, step)
+        divisor = gcd(leaving, arriving) * chance.choice((1, 1, 2))
+        times, more = chance.choice((0, 1, 2, 3)), chance.randint(-4, 4)
+        inner = (times * arriving // divisor, more * arriving // divisor)
+        outer = (-times * leaving // divisor, -more * leaving // divisor + chance.choice((0, 0, 0, 1)))
+        return room, ((0, 0), inner, outer), (step, (step[0], 1 - step[1]))
+
+    def test_rests_and_numbers_together(self):
+        # D is 2; two pulls between become three whole ones, but with the rest 0 in the place of 1.
+        passes = ((0, 1), (0, 0))
+        self.assertEqual(dead_for(DEEP, (0, ((0, 0), (2, 0), (0, -3)), passes)), [])
+        self.assertEqual(dead_for(DEEP, (0, ((0, 0), (2, 0), (0, -6)), passes)), [(2, 0)])
+        self.assertEqual(dead_for(DEEP, (0, ((0, 0), (2, 0), (-3, 0)), passes)), [(0, 2)])
+        # D is 3 and 5 is not bounded: 5 divides 3 * k + 3, and 3 divides 2 * k + 2, as 0 is the rest that arrives.
+        five = House(1, ((0, 45, 0, 30),))
+        self.assertEqual(deep_part(five), (3,))
+        self.assertEqual(dead_for(five, (0, ((0, 0), (3, 3), (-2, -2)), passes)), [(14, 15)])
 
     def test_example_and_by_hand(self):
         self.assertEqual(dead_for(DOUBLE, EXAMPLE), [(6, 0)])

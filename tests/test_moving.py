@@ -8,7 +8,7 @@ from pulledrooms.houses import House
 from pulledrooms.moving import class_of, endless_pair, is_state, moved_by, next_states
 from pulledrooms.weights import growth_of
 from tests.helper import (ALONE, GREAT, HUGE, ODD, PAIR, RING, SINGLE, all_passes, class_here, ends, go_over,
-                          houses_by_chance, some_state)
+                          houses_by_chance, some_state, times_in)
 
 DOUBLING = House(1, ((0, 1, 0, 2),))
 CHAIN = House(1, ((0, 2, 0, 3), (0, 3, 0, 8)))
@@ -175,15 +175,61 @@ class Classes(unittest.TestCase):
 
     def test_a_class_that_growth_does_not_reach(self):
         # There is a growth, but too few factors of 11 to go over the last door; no search could see all these states.
-        house = House(1, ((0, 2, 0, 3), (0, 2, 0, 5), (0, 2, 0, 7), (0, 11, 0, 13), (0, 121, 0, 242)))
+        doors = tuple((0, 2, 0, prime) for prime in (3, 5, 7, 17, 19, 23)) + ((0, 11, 0, 13), (0, 121, 0, 242))
+        house = House(1, doors)
         self.assertIsNotNone(growth_of(house))
-        self.assertIsNone(endless_pair(house, (0, 2 ** 150 * 11)))
-        with self.assertRaises(TooMany):
-            class_of(house, (0, 2 ** 150 * 13))
-        for state in ((0, 2 ** 150 * 121), (0, 2 ** 150 * 169)):
+        for number in (2 ** 150 * 11, -2 ** 150 * 13, 2 ** 150):
+            self.assertIsNone(endless_pair(house, (0, number)))
+            with self.assertRaises(TooMany):
+                class_of(house, (0, number))
+        for state in ((0, 2 ** 150 * 121), (0, -2 ** 150 * 169)):
             self.assertIsNone(class_of(house, state))
             room, number, times = endless_pair(house, state)
-            self.assertTrue(room == 0 and abs(times) > 1 and number % 2 ** 140 == 0)
+            self.assertTrue(room == 0 and abs(times) > 1 and number * state[1] > 0)
+
+    def test_rooms_that_growth_is_in(self):
+        # Each 11 becomes a 13 on the way to room 1, where two of them are needed.
+        loops = tuple((2, 2, 2, prime) for prime in (3, 5, 7, 17, 19))
+        house = House(3, ((0, 1, 1, 1),) + loops + ((2, 11, 1, 13), (1, 1, 2, 1), (1, 169, 1, 338)))
+        self.assertIsNone(endless_pair(house, (2, 2 ** 100 * 11)))
+        self.assertIsNone(endless_pair(house, (0, 2 ** 100 * 13)))
+        with self.assertRaises(TooMany):
+            class_of(house, (2, 2 ** 100 * 11))
+        for state in ((2, 2 ** 100 * 121), (1, 2 ** 100 * 143), (0, 169)):
+            self.assertIsNotNone(endless_pair(house, state))
+            self.assertIsNone(class_of(house, state))
+
+    def test_growth_that_only_halves_of_walks_would_reach(self):
+        # No state has 2 and 3, but by half a walk over the first door one would.
+        house = House(1, ((0, 4, 0, 9), (0, 6, 0, 30), (0, 7, 0, 11), (0, 7, 0, 13)))
+        state = (0, 4 * 7 ** 15)
+        self.assertIsNone(endless_pair(house, state))
+        self.assertEqual(len(class_of(house, state)), 2 * 136)
+        self.assertIsNone(endless_pair(house, (0, 4 * 7 ** 60)))
+        self.assertEqual(len(class_of(house, (0, 4 * 7 ** 60))), 2 * 1891)
+        with self.assertRaises(TooMany):
+            class_of(house, (0, 9 * 7 ** 70))
+        self.assertIsNone(class_of(house, (0, 36 * 7 ** 15)))
+
+    def test_a_long_way_to_endlessness(self):
+        # One factor goes up from prime to prime, and the last one becomes two of the first; so all products are met.
+        primes = (2, 3, 5, 7, 11, 13, 17, 19, 23, 29, 31, 37, 41, 43, 47, 53, 59, 61)
+        doors = tuple((0, one, 0, other) for one, other in zip(primes, primes[1:])) + ((0, 61, 0, 4), (0, 67, 0, 71))
+        for number in (2, 2 ** 60, 3 ** 20 * 5 ** 30 * 61, 2 ** 100 * 73, -7 ** 40 * 67 ** 5):
+            house = House(1, doors)
+            room, found, times = endless_pair(house, (0, number))
+            self.assertEqual(room, 0)
+            self.assertGreater(abs(times), 1)
+            for other in (found, found * times):
+                self.assertEqual(self.without(primes, other), self.without(primes, number))
+                self.assertGreater(abs(other), abs(self.without(primes, other)))
+            self.assertIsNone(class_of(house, (0, number)))
+
+    def without(self, primes, number):
+        """The number without these primes, and with 67 in the place of each 71."""
+        for prime in primes:
+            number //= prime ** times_in(prime, number)
+        return number // 71 ** times_in(71, number) * 67 ** times_in(71, number)
 
     def test_endless_ones_of_great_numbers(self):
         chance = random.Random(45)
