@@ -216,7 +216,7 @@ def _parting_of(house, walk, still):
     orders = list(permutations(range(len(still))))
     firsts = {}
     for order in orders:
-        firsts.setdefault(str(sorted([len(each) for each in rounds_of(order)])), order)
+        firsts.setdefault(tuple(sorted([len(each) for each in rounds_of(order)])), order)
     straight = [way[-1][0] for way in ways_from_first(house)[1:]]
     passed = [door for door, _ in walk[2]]
     for ropes in _choices([list(firsts.values())] + [orders for _ in range(house.rooms - 1)]):

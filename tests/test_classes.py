@@ -104,13 +104,18 @@ class Lists(unittest.TestCase):
     def test_nearly_all_numbers(self):
         chance = random.Random(64)
         told = []
-        for _ in range(1500):
-            steps = chance.choice(((4, 6, 8, 12), (2, 4, 8, 16), (6, 9, 18, 12), (5, 10, 3, 6), (3, 9, 27), (4, 6, 10, 15)))
+        for _ in range(2500):
+            steps = chance.choice(((4, 6, 8, 12), (2, 4, 8, 16), (6, 9, 18, 12), (5, 10, 3, 6), (3, 9, 27), (4, 6, 10, 15),
+                                   (6, 12, 24), (4, 12, 18)))
             rows = [row for row in some_rows(chance, 40, steps) if chance.random() < 0.8]
+            if chance.random() < 0.3:
+                # Half of all numbers, and others twice as far apart.
+                rows = [(0, 2)] + [(2 * first + 1, 2 * step) for first, step in rows]
+                steps = [2 * step for step in steps]
             right = all(has(rows, number) for number in range(lcm(*steps)))
             self.assertIs(rows_within([(0, 1)], rows), right, rows)
             told.append(right)
-        self.assertTrue(200 < told.count(True) < 1300)
+        self.assertTrue(200 < told.count(True) < 2300)
 
     def test_example(self):
         self.assertEqual(least_rows(EXAMPLE), [(0, 2), (3, 0)])

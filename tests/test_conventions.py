@@ -170,7 +170,7 @@ CALLS = [
     (wide.is_dead, [HOUSE, WALKED, ROUND]),
     (wide.are_dead_spots, [HOUSE, WALKED, ROUND, SPOTS_JUDGED]),
     (everyk.forms_for, [DEEP_HOUSE, HALL_PATTERN, ("pattern", PATTERN, errors.TooMany, (FIVE_PASSES,))]),
-    (everyk.seat_for, [HALLED, HALL_PATTERN, ("pattern", PATTERN, errors.NotHome, ()), SEAT]),
+    (everyk.seat_for, [HALLED, HALL_PATTERN, SEAT]),
     (everyk.dead_for, [HOUSE, PATTERNED, HOME_PATTERN]),
 ]
 # What stands last for functions that judge any value.

@@ -196,7 +196,8 @@ class WidePulls(unittest.TestCase):
 
     def not_wide(self):
         fines = ((2, 4), (1, 1), (1, 5), (1, 10), (1, -2), (0, 2), (1, True), (True, 2), (1, 2, 3), [1, 2], (1,), "1",
-                 True, None, (1, 0), (6, 9), (1, 7 * 2 ** 100))
+                 True, None, (1, 0), (6, 9), (1, 7 * 2 ** 100), (1, "2"), (1, None), ("1", 2), (None, 2), (1, (2,)),
+                 ([1], 2), ((3, 2), 2), {3: 2})
         return [thing for thing in ODD if thing not in ((0, 1), (0, True))] + [(0, fine) for fine in fines] + [
             (2, 1), (-1, 1), (True, 1), (False, 1), (None, 1), [0, 1], (0,), (0, 1, 1), ((0, 1), 1)]
 
