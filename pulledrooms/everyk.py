@@ -2,7 +2,7 @@
 
 from pulledrooms.classes import tidied
 from pulledrooms.errors import TooMany
-from pulledrooms.halls import need_hall, need_seat, seat_led
+from pulledrooms.halls import need_hall, need_seat, places_along, seat_led
 from pulledrooms.houses import back_of, ends_of
 from pulledrooms.patterns import filled_with, need_home_pattern, need_pattern, rows_to_nothing
 from pulledrooms.returns import common_of, returns_in
@@ -33,8 +33,9 @@ def seat_for(hall, pattern, seat):
     common = common_of([returns[room] for room in told])
     if common > MOST_TOLD:
         raise TooMany(MOST_TOLD)
+    places = places_along(hall, pattern)
     return tidied([(number, common) for number in range(common)
-                   if seat_led(hall, filled_with(pattern, number), seat) == seat])
+                   if seat_led(hall, places, filled_with(pattern, number), seat) == seat])
 
 
 def dead_for(house, pattern):

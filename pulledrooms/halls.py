@@ -7,7 +7,7 @@ from pulledrooms.checks import is_number_within, is_tuple_of
 from pulledrooms.errors import BadHall, BadMost, BadRopes, BadSeat, BadSeats, BadWays, Elsewhere, TooMany, Torn
 from pulledrooms.houses import ends_of, need_house
 from pulledrooms.ratios import ways_from_first
-from pulledrooms.walks import need_home, need_walk
+from pulledrooms.walks import need_home, need_walk, room_after
 
 MOST_SEATS = 5
 MOST_ARRANGED = 4000
@@ -102,13 +102,18 @@ def rounds_of(rope):
     return rounds
 
 
-def pulled(rope, times):
-    """The arrangement of so many pulls of the rope."""
-    there = [0 for _ in rope]
+def places_of(rope):
+    """For each seat the round in which it is, as a list of seats, and its place in it."""
+    places = [None for _ in rope]
     for seats in rounds_of(rope):
         for at, seat in enumerate(seats):
-            there[seat] = seats[(at + times) % len(seats)]
-    return tuple(there)
+            places[seat] = (seats, at)
+    return places
+
+
+def pulled(rope, times):
+    """The arrangement of so many pulls of the rope."""
+    return tuple([seats[(at + times) % len(seats)] for seats, at in places_of(rope)])
 
 
 def led_seat(hall, walk, seat):
@@ -116,7 +121,7 @@ def led_seat(hall, walk, seat):
     need_hall(hall)
     need_walk(hall.house, walk)
     need_seat(hall, seat)
-    return seat_led(hall, walk, seat)
+    return seat_led(hall, places_along(hall, walk), walk, seat)
 
 
 def arrangement_of(hall, walk):
@@ -169,24 +174,26 @@ def halls_beside(hall, other):
     return Hall(hall.house, tuple(ropes), tuple(ways))
 
 
-def _seat_pulled(rope, seat, times):
-    """The seat to which so many pulls of the rope lead seat."""
-    if times == 0:
-        return seat
-    seats = [seat]
-    while rope[seats[-1]] != seat:
-        seats.append(rope[seats[-1]])
-    return seats[times % len(seats)]
+def places_along(hall, walk):
+    """For each room in which the walk is, places_of its rope."""
+    places = {}
+    for at in range(len(walk[1])):
+        room = room_after(hall.house, walk, at)
+        if room not in places:
+            places[room] = places_of(hall.ropes[room])
+    return places
 
 
-def seat_led(hall, walk, seat):
-    """What led_seat tells, of what surely is a walk and a seat."""
-    room, pulls, passes = walk
-    here = _seat_pulled(hall.ropes[room], seat, pulls[0])
-    for step, times in zip(passes, pulls[1:]):
-        way = hall.ways[step[0]]
-        here = way[here] if step[1] == 0 else way.index(here)
-        here = _seat_pulled(hall.ropes[ends_of(hall.house, step)[2]], here, times)
+def seat_led(hall, places, walk, seat):
+    """What led_seat tells, of what surely is a walk and a seat; places are those along the walk."""
+    _, pulls, passes = walk
+    here = seat
+    for at, times in enumerate(pulls):
+        seats, place = places[room_after(hall.house, walk, at)][here]
+        here = seats[(place + times) % len(seats)]
+        if at < len(passes):
+            door, side = passes[at]
+            here = hall.ways[door][here] if side == 0 else hall.ways[door].index(here)
     return here
 
 

@@ -74,11 +74,9 @@ def class_of(house, state):
     """The ascending list of the states to which the state can be moved, or None if there is no end of them."""
     need_state(house, state)
     pair, found, whole = _search(house, state, MOST_STATES)
-    if whole and len(found) <= MOST_STATES:
+    if whole:
         return sorted(found)
-    if pair is None and not whole:
-        pair = endless_pair(house, state)
-    if pair is None:
+    if pair is None and endless_pair(house, state) is None:
         raise TooMany(MOST_STATES)
     return None
 

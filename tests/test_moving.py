@@ -199,6 +199,17 @@ class Classes(unittest.TestCase):
             self.assertIsNotNone(endless_pair(house, state))
             self.assertIsNone(class_of(house, state))
 
+    def test_pulls_that_a_way_to_another_room_adds(self):
+        # In room 1 there is a 5 that makes the last door passable, but behind three passes of other doors only.
+        loops = tuple((2, 2, 2, prime) for prime in (3, 7, 11, 13, 17, 19, 23, 29))
+        house = House(3, ((0, 1, 1, 1), (2, 1, 1, 5)) + loops + ((1, 135, 1, 270),))
+        for state in ((2, 2 ** 60), (1, -5 * 2 ** 60), (0, 5 * 2 ** 60)):
+            room, number, times = endless_pair(house, state)
+            self.assertGreater(abs(times), 1)
+            self.assertIsNone(class_of(house, state))
+        for state in ((1, 2 ** 60), (0, 2 ** 60)):
+            self.assertIsNone(endless_pair(house, state))
+
     def test_growth_that_only_halves_of_walks_would_reach(self):
         # No state has 2 and 3, but by half a walk over the first door one would.
         house = House(1, ((0, 4, 0, 9), (0, 6, 0, 30), (0, 7, 0, 11), (0, 7, 0, 13)))
