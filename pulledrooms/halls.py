@@ -85,6 +85,12 @@ def turned(arrangement):
     return tuple(came)
 
 
+def way_over(ways, step):
+    """The arrangement of the pass, where doors have these ways."""
+    way = ways[step[0]]
+    return way if step[1] == 0 else turned(way)
+
+
 def rounds_of(rope):
     """The rounds of the rope, each a list of seats in the order in which pulls lead them, by their least seats."""
     rounds = []
@@ -207,8 +213,7 @@ def _arranged_by(house, ropes, ways, walk):
     room, pulls, passes = walk
     here = pulled(ropes[room], pulls[0])
     for step, times in zip(passes, pulls[1:]):
-        way = ways[step[0]]
-        here = then(here, way if step[1] == 0 else turned(way))
+        here = then(here, way_over(ways, step))
         if times != 0:
             here = then(here, pulled(ropes[ends_of(house, step)[2]], times))
     return here

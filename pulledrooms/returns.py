@@ -37,8 +37,8 @@ def hall_of_returns(house, fitting):
     seats = common_of(fitting)
     if seats > MOST_RETURNING:
         raise TooMany(MOST_RETURNING)
-    ropes = tuple([_rope_of(seats, length) for length in fitting])
-    ways = [_way_between(pulled(ropes[near], first), pulled(ropes[far], second))
+    ropes = tuple([rope_of(seats, length) for length in fitting])
+    ways = [way_through(pulled(ropes[near], first), pulled(ropes[far], second), [])
             for near, first, far, second in house.doors]
     return Hall(house, ropes, tuple(ways))
 
@@ -83,15 +83,26 @@ def common_of(numbers):
     return common
 
 
-def _rope_of(seats, length):
+def rope_of(seats, length):
     """The rope of so many seats that leads each so many seats that stand side by side round."""
     return tuple([seat + 1 if (seat + 1) % length != 0 else seat + 1 - length for seat in range(seats)])
 
 
-def _way_between(one, other):
-    """A way that leads the rounds of the one arrangement over to those of the other; each has as long ones."""
-    way = [0 for _ in one]
-    for seats, others in zip(rounds_of(one), rounds_of(other)):
+def way_through(one, other, links):
+    """A way that leads the rounds of the one arrangement over to those of the other; each has as long ones.
+
+    Links are pairs (seat, seat to which the way leads it), no two of them in one round on either side.
+    """
+    way = [None for _ in one]
+    led = [False for _ in other]
+    for seat, there in links:
+        while way[seat] is None:
+            way[seat] = there
+            led[there] = True
+            seat, there = one[seat], other[there]
+    ours = [seats for seats in rounds_of(one) if way[seats[0]] is None]
+    theirs = [seats for seats in rounds_of(other) if not led[seats[0]]]
+    for seats, others in zip(ours, theirs):
         for seat, there in zip(seats, others):
             way[seat] = there
     return tuple(way)

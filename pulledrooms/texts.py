@@ -72,7 +72,7 @@ def _sayings(text):
     return found
 
 
-def _told_number(word):
+def told_number(word):
     """The number that a number word tells, or None for another word."""
     digits = word.removeprefix("-")
     if not 1 <= len(digits) <= MOST_DIGITS:
@@ -87,7 +87,7 @@ def _told_rooms(words):
     """The number of rooms that the words tell, or None."""
     if len(words) != 2 or words[0] != "rooms":
         return None
-    rooms = _told_number(words[1])
+    rooms = told_number(words[1])
     return rooms if is_room_count(rooms) else None
 
 
@@ -95,7 +95,7 @@ def _told_door(rooms, words):
     """The door that the words tell, or None."""
     if words[0] != "door":
         return None
-    door = tuple([_told_number(word) for word in words[1:]])
+    door = tuple([told_number(word) for word in words[1:]])
     return door if is_door(rooms, door) else None
 
 
@@ -103,16 +103,16 @@ def _told_pass(word):
     """The pass that a pass word tells, or None for another word."""
     if word[-1] not in SIGNS or word.startswith("-"):
         return None
-    return (_told_number(word[:-1]), SIGNS.index(word[-1]))
+    return (told_number(word[:-1]), SIGNS.index(word[-1]))
 
 
 def _told_walk(words):
     """The triple that the words tell, perhaps no walk, or None if there are no such words."""
-    pulls = tuple([_told_number(word) for word in words[1::2]])
+    pulls = tuple([told_number(word) for word in words[1::2]])
     passes = tuple([_told_pass(word) for word in words[2::2]])
     if len(passes) > MOST_PASSES:
         return None
-    return (_told_number(words[0]), pulls, passes)
+    return (told_number(words[0]), pulls, passes)
 
 
 def _walk_line(walk):

@@ -33,7 +33,7 @@ def is_wide(house, thing):
 def as_wide(house, walk):
     """The wide walk of whole pulls."""
     need_walk(house, walk)
-    return _widened(house, wide_scale(house), walk)
+    return widened(house, wide_scale(house), walk)
 
 
 def wide_spots(house, wide):
@@ -56,19 +56,8 @@ def dead_spots(house, walk):
     """A list of spots of wide shortenings that lead the walk to nothing, or None."""
     need_home(house, walk)
     scale = wide_scale(house)
-    wide = _widened(house, scale, walk)
-    spots = []
-    spot = 0
-    while spot < len(wide[2]):
-        shorter = _shorter(house, scale, wide, spot)
-        if shorter is None:
-            spot += 1
-        else:
-            spots.append(spot)
-            wide = shorter
-            # Only here and one pass ahead a new spot may have come to be.
-            spot = max(spot - 1, 0)
-    return spots if _is_nothing(wide) else None
+    left, spots = shortest_wide(house, scale, widened(house, scale, walk))
+    return spots if is_wide_nothing(left) else None
 
 
 def is_dead(house, walk):
@@ -82,17 +71,46 @@ def are_dead_spots(house, walk, thing):
     if not is_list(thing):
         return False
     scale = wide_scale(house)
-    wide = _widened(house, scale, walk)
+    wide = widened(house, scale, walk)
     for spot in thing:
         wide = _shorter(house, scale, wide, spot)
         if wide is None:
             return False
-    return _is_nothing(wide)
+    return is_wide_nothing(wide)
 
 
 def wide_scale(house):
     """The scale of wide pulls: (bounded primes, deep part)."""
     return (tuple(bounded_primes(house)), deep_part(house))
+
+
+def widened(house, scale, walk):
+    """What as_wide tells, of what surely is a walk."""
+    room, pulls, passes = walk
+    deep = scale[1]
+    wides = [(times % deep[room_after(house, walk, at)], times) for at, times in enumerate(pulls)]
+    return (room, tuple(wides), passes)
+
+
+def shortest_wide(house, scale, wide):
+    """(what is left of the wide walk, shortened as long as it can be, list of the spots of the shortenings)."""
+    spots = []
+    spot = 0
+    while spot < len(wide[2]):
+        shorter = _shorter(house, scale, wide, spot)
+        if shorter is None:
+            spot += 1
+        else:
+            spots.append(spot)
+            wide = shorter
+            # Only here and one pass ahead a new spot may have come to be.
+            spot = max(spot - 1, 0)
+    return (wide, spots)
+
+
+def is_wide_nothing(wide):
+    """Whether the wide walk has neither passes nor pulls."""
+    return wide[1] == ((0, 0),)
 
 
 def _need_wide(house, wide):
@@ -146,14 +164,6 @@ def _added(depth, one, other):
     return _pulls_of(lines_added(_line(one), _line(other)), depth)
 
 
-def _widened(house, scale, walk):
-    """What as_wide tells, of what surely is a walk."""
-    room, pulls, passes = walk
-    deep = scale[1]
-    wides = [(times % deep[room_after(house, walk, at)], times) for at, times in enumerate(pulls)]
-    return (room, tuple(wides), passes)
-
-
 def _brought_back(house, scale, wide, spot):
     """The wide pulls behind pass spot, carried over its back that follows, or None if there are none."""
     _, wides, passes = wide
@@ -173,8 +183,3 @@ def _shorter(house, scale, wide, spot):
     depth = scale[1][room_after(house, wide, spot)]
     together = (_added(depth, _added(depth, wides[spot], arrived), wides[spot + 2]),)
     return (room, wides[:spot] + together + wides[spot + 3:], passes[:spot] + passes[spot + 2:])
-
-
-def _is_nothing(wide):
-    """Whether the wide walk has neither passes nor pulls."""
-    return wide[1] == ((0, 0),)

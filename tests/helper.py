@@ -365,3 +365,80 @@ def times_in(prime, number):
     while number % prime == 0:
         number, times = number // prime, times + 1
     return times
+
+
+def led_along(house, lead, walk):
+    """The lead, then the walk, then the lead backwards."""
+    return put_together(lead, walk, turned_back(house, lead))
+
+
+def pulls_in(room, times):
+    """Pulls alone."""
+    return room, (times,), ()
+
+
+def bare(room, steps):
+    """The walk by these passes without pulls."""
+    return room, (0,) * (len(steps) + 1), tuple(steps)
+
+
+def done(walk, times):
+    """The walk so many times, from once on."""
+    return put_together(*[walk] * times)
+
+
+def ways_from(house, start):
+    """For each room the passes of one way to it from start, all of which together are a tree."""
+    ways, waiting = {start: ()}, [start]
+    while waiting:
+        room = waiting.pop(0)
+        for step in all_passes(house):
+            leads, _, there, _ = ends(house, step)
+            if leads == room and there not in ways:
+                ways[there] = ways[room] + (step,)
+                waiting.append(there)
+    return ways
+
+
+def round_trips(house, room):
+    """Walks from the room home of which all others are joined: over each door, and with one pull in each room."""
+    ways, trips = ways_from(house, room), []
+    for door, (near, _, far, _) in enumerate(house.doors):
+        trips.append(bare(room, ways[near] + ((door, 0),) + turned_back(house, bare(room, ways[far]))[2]))
+    for there in range(house.rooms):
+        trips.append(led_along(house, bare(room, ways[there]), pulls_in(there, 1)))
+    return trips
+
+
+def measured_house(chance, most_rooms=4, most_more=2, turns=0.15):
+    """A house left to chance in which lengths fit."""
+    shape = some_house(chance, most_rooms=most_rooms, most_more=most_more)
+    lengths = [chance.choice((1, 2, 3, 4, 6)) for _ in range(shape.rooms)]
+    doors = []
+    for near, _, far, _ in shape.doors:
+        common = lcm(lengths[near], lengths[far]) * chance.choice((1, 1, 2, 3))
+        sign = -1 if chance.random() < turns else 1
+        doors.append((near, sign * common // lengths[near], far, common // lengths[far]))
+    return House(shape.rooms, tuple(doors))
+
+
+def met_by(hall, room, seat):
+    """All pairs (room, seat) to which walks lead the seat, taken in room; pull by pull and pass by pass."""
+    met, waiting = {(room, seat)}, [(room, seat)]
+    while waiting:
+        here, at = waiting.pop()
+        leads = [(here, hall.ropes[here][at])]
+        for door, side in all_passes(hall.house):
+            start, _, there, _ = ends(hall.house, (door, side))
+            if start == here:
+                leads.append((there, hall.ways[door].index(at) if side else hall.ways[door][at]))
+        for lead in leads:
+            if lead not in met:
+                met.add(lead)
+                waiting.append(lead)
+    return met
+
+
+def round_here(hall, room, seat):
+    """The seats of the round in which the seat is, from the least one on, as pulls lead them."""
+    return next(seats for seats in rounds_here(hall.ropes[room]) if seat in seats)

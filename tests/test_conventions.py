@@ -3,8 +3,8 @@
 import copy
 import unittest
 
-from pulledrooms import (books, classes, cores, errors, everyk, forms, halls, houses, moving, patterns, ratios,
-                         returns, texts, walks, weights, wide)
+from pulledrooms import (alikeness, books, classes, cores, errors, everyk, forms, halls, houses, lots, moving,
+                         patterns, ratios, returns, roots, shows, texts, walks, weights, wide)
 from tests.helper import HUGE, NO_NUMBERS, ODD, PAIR, SINGLE
 
 WALK = (0, (1, 0, 4), ((0, 0), (0, 1)))
@@ -64,6 +64,20 @@ NO_WIDE = ODD + (WALK, list(WIDE), (0, ((0, 1), (2, 1), (0, 0)), WIDE[2]), (0, (
 WIDE_TOLD = ("wide", (0, ((0, 1), (0, (9, 2)), (0, 0)), WIDE[2]), errors.BadWide, NO_WIDE)
 FITTING, SPOTS_JUDGED = [("thing", right, None, ()) for right in ((5,), [0, 0])]
 OTHER_PATTERN = ("other", (0, ((1, -3),), ()), errors.BadPattern, NO_PATTERNS)
+HOME_ONE, HOME_OTHER = [(name, WALK, errors.NotHome, (FAR,)) for name in ("one", "other")]
+UNLIKE_ROOM = ("other", WALK, errors.Elsewhere, ((1, (0,), ()),))
+GOING = (1, (0, 0, 0), ((1, 0), (1, 0)))
+GOES = [("walk", GOING, errors.BadWalk, NO_WALKS), ("walk", GOING, errors.NotHome, (FAR,)),
+        ("walk", GOING, errors.Keeps, (WALK, (0, (0,), ())))]
+MANY = ("many", 2, errors.BadMany, NO_NUMBERS + (0, 1, 10, HUGE))
+PAIR_HALL = returns.hall_of_returns(PAIR, (10, 5))
+PAIR_HALLED = ("hall", PAIR_HALL, errors.BadHall, ODD + (PAIR, PAIR_HALL.ropes, halls.Hall))
+NO_SEATS = NO_NUMBERS + (-1, 10, HUGE)
+PAIR_SEAT = ("seat", 2, errors.BadSeat, NO_SEATS)
+OTHER_PAIR_HALL = ("other", halls.halls_beside(PAIR_HALL, PAIR_HALL), errors.BadHall, ODD)
+UNLIKE_HALL = ("other", PAIR_HALL, errors.Elsewhere, (HALL,))
+TWELVE = houses.House(12, tuple((0, 1, room, 1) for room in range(1, 12)))
+WIDE_HALL = halls.Hall(DOUBLE, (tuple(range(1667)),), (tuple(range(1667)),))
 
 # A function and, for each parameter from left to right, its name, a right value, the error for wrong ones, wrong ones.
 # A parameter that has two errors stands there twice.
@@ -172,6 +186,29 @@ CALLS = [
     (everyk.forms_for, [DEEP_HOUSE, HALL_PATTERN, ("pattern", PATTERN, errors.TooMany, (FIVE_PASSES,))]),
     (everyk.seat_for, [HALLED, HALL_PATTERN, SEAT]),
     (everyk.dead_for, [HOUSE, PATTERNED, HOME_PATTERN]),
+    (shows.hall_with, [HOUSE, ("fitting", (10, 5), errors.BadFitting, ODD + ((4, 3), (2,), [10, 5], (10, True))), WALKED,
+                       ROUND, ("fitting", (10, 5), errors.TooMany, ((5003, 5003),))]),
+    (shows.hall_for, [HOUSE, WALKED, ROUND]),
+    (shows.is_rising, [HOUSE]),
+    (shows.dead_walk, [HOUSE]),
+    (alikeness.lead_between, [HOUSE, ONE, HOME_ONE, OTHER, HOME_OTHER, FEW_DOORS]),
+    (alikeness.joining_pulls, [HOUSE, ONE, HOME_ONE, OTHER, HOME_OTHER, UNLIKE_ROOM]),
+    (alikeness.past_one_another, [HOUSE, ONE, HOME_ONE, OTHER, HOME_OTHER, UNLIKE_ROOM]),
+    (alikeness.pulls_past, [HOUSE, WALKED, ROUND]),
+    (alikeness.pulls_past_all, [HOUSE, ROOM]),
+    (roots.root_of, [HOUSE] + GOES + [MANY]),
+    (roots.root_pulls, [HOUSE] + GOES + [
+        ("walk", GOING, errors.NoCore, ((1, (5, 0, 0), ((1, 1), (1, 1))),)), MANY]),
+    (roots.greatest_root, [HOUSE] + GOES),
+    (lots.within, [PAIR_HALLED, WALKED, ROUND, PAIR_SEAT]),
+    (lots.beside_many, [PAIR_HALLED, ROOM, PAIR_SEAT]),
+    (lots.lead_to, [PAIR_HALLED, ROOM, PAIR_SEAT, ("other", 6, errors.BadSeat, NO_SEATS)]),
+    (lots.are_one_lot, [PAIR_HALLED, OTHER_PAIR_HALL, UNLIKE_HALL, ROOM, PAIR_SEAT,
+                        ("place", 9, errors.BadSeat, NO_SEATS + (20,))]),
+    (lots.lots_many, [HOUSE, ("many", 2, errors.BadMany, NO_NUMBERS + (0, 5, HUGE)),
+                      ("house", PAIR, errors.TooMany, (TWELVE,))]),
+    (lots.meeting_hall, [HALLED, OTHER_HALL, ("other", HALL, errors.Elsewhere, (PAIR_HALL,)),
+                         ("other", HALL, errors.TooMany, (WIDE_HALL,))]),
 ]
 # What stands last for functions that judge any value.
 JUDGES = [THING, WAY, RULE, BOOK_JUDGED, FITTING, SPOTS_JUDGED] + JUDGED

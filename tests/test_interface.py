@@ -42,10 +42,17 @@ INTERFACE = {
             "wide_shortened(house, wide, spot), dead_spots(house, walk), is_dead(house, walk), "
             "are_dead_spots(house, walk, thing)",
     "everyk": "forms_for(house, pattern), seat_for(hall, pattern, seat), dead_for(house, pattern)",
+    "shows": "hall_with(house, fitting, walk), hall_for(house, walk), is_rising(house), dead_walk(house)",
+    "alikeness": "lead_between(house, one, other), joining_pulls(house, one, other), "
+                 "past_one_another(house, one, other), pulls_past(house, walk), pulls_past_all(house, room)",
+    "roots": "root_of(house, walk, many), root_pulls(house, walk, many), greatest_root(house, walk)",
+    "lots": "within(hall, walk, seat), beside_many(hall, room, seat), lead_to(hall, room, seat, other), "
+            "are_one_lot(hall, other, room, seat, place), lots_many(house, many), meeting_hall(hall, other)",
 }
-# Each module imports only from those that stand ahead of it; checks and lines are further ones.
-ORDER = ("errors", "checks", "houses", "walks", "texts", "forms", "cores", "ratios", "weights", "moving", "books",
-         "classes", "lines", "patterns", "halls", "returns", "wide", "everyk")
+# Each module imports only from those that stand ahead of it; checks, folding and lines are further ones.
+ORDER = ("errors", "checks", "houses", "folding", "walks", "texts", "forms", "cores", "ratios", "weights", "moving",
+         "books", "classes", "lines", "patterns", "halls", "returns", "wide", "everyk", "shows", "alikeness", "roots",
+         "lots")
 
 
 class Interface(unittest.TestCase):
