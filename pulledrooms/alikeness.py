@@ -2,9 +2,9 @@
 
 from math import gcd, lcm
 
-from pulledrooms.books import MOST_BOOK_DOORS, moved_way
+from pulledrooms.books import moved_way
 from pulledrooms.cores import core_of, turned_core
-from pulledrooms.errors import Elsewhere, TooMany
+from pulledrooms.errors import Elsewhere
 from pulledrooms.folding import folded_down
 from pulledrooms.forms import are_one, plain_form
 from pulledrooms.houses import back_of, need_house, need_room
@@ -15,8 +15,6 @@ from pulledrooms.walks import backwards, joined_up, need_home
 
 def lead_between(house, one, other):
     """A lead that joins both walks, or None if they are not alike."""
-    need_home(house, one)
-    need_home(house, other)
     lead, core = core_of(house, one)
     onward, last = core_of(house, other)
     if len(core[2]) != len(last[2]):
@@ -111,8 +109,6 @@ def _kept_lead(house, core, last):
     there, (many,), _ = last
     if times == 0 or many == 0:
         return _straight_lead(house, room, there) if times == many else None
-    if len(house.doors) > MOST_BOOK_DOORS:
-        raise TooMany(MOST_BOOK_DOORS)
     way = moved_way(house, (room, times), (there, many))
     return None if way is None else _bare(room, way)
 
@@ -122,9 +118,7 @@ def _gone_lead(house, core, last):
     room, pulls, passes = core
     for many in range(len(passes)):
         turned = turned_core(house, core, many)
-        if turned[0] != last[0] or turned[2] != last[2]:
-            continue
-        rows = _joining_rows(house, plain_form(house, turned), last)
+        rows = _joining_rows(house, plain_form(house, turned), last) if turned[2] == last[2] else []
         if rows:
             ahead = (room, pulls[:many] + (0,), passes[:many])
             return joined_up(ahead, (last[0], (rows[0][0],), ()))

@@ -58,17 +58,18 @@ def are_one_lot(hall, other, room, seat, place):
     need_seat(hall, seat)
     need_seat(other, place)
     ours, theirs = _all_leads(hall), _all_leads(other)
-    # Where a walk leads the one seat, it leads the other one; neither may come twice.
-    met, back = {(room, seat): place}, {(room, place): seat}
+    # For each seat to which a walk leads the one, the seat to which it leads the other, which no other walk may reach.
+    met, taken = {(room, seat): place}, {(room, place): True}
     fresh = [(room, seat)]
     while fresh:
         here, at = fresh.pop()
         for (there, mine), (_, their) in zip(ours[here], theirs[here]):
             one, both = (there, mine[at]), (there, their[met[(here, at)]])
-            if one not in met and both not in back:
-                met[one], back[both] = both[1], one[1]
+            if one not in met and both not in taken:
+                met[one] = both[1]
+                taken[both] = True
                 fresh.append(one)
-            elif met.get(one) != both[1] or back.get(both) != one[1]:
+            elif met.get(one) != both[1]:
                 return False
     return True
 
@@ -144,10 +145,9 @@ def _need_like_halls(hall, other):
 
 
 def _pulls_between(places, seat, other):
-    """The number of pulls, forward or back, as few as can be, that lead seat to other in its round."""
+    """The number of pulls, from 0 on, that lead seat to other in its round."""
     seats, at = places[seat]
-    ahead = (places[other][1] - at) % len(seats)
-    return ahead if 2 * ahead <= len(seats) else ahead - len(seats)
+    return (places[other][1] - at) % len(seats)
 
 
 def _all_leads(hall):

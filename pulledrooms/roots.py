@@ -4,7 +4,7 @@ from pulledrooms.alikeness import rows_for_one
 from pulledrooms.checks import is_number_within
 from pulledrooms.cores import core_of, is_core
 from pulledrooms.errors import BadMany, Keeps, NoCore
-from pulledrooms.walks import backwards, joined_up, need_home
+from pulledrooms.walks import backwards, joined_up
 
 MOST_DONE = 9
 
@@ -40,7 +40,6 @@ def greatest_root(house, walk):
 
 def _going_core(house, walk):
     """What core_of tells; raises BadHouse, BadWalk, NotHome, or Keeps if the walk keeps."""
-    need_home(house, walk)
     lead, core = core_of(house, walk)
     if core[2] == ():
         raise Keeps("the walk keeps")

@@ -37,16 +37,13 @@ def hall_for(house, walk):
 def is_rising(house):
     """Whether one door of one room, with 1 or -1 on one side, is left when doors are folded away."""
     need_house(house)
-    doors, folds = folded_down(house)
-    if len(folds) + 1 < house.rooms or len(doors) != 1:
-        return False
-    _, first, _, second = doors[0]
-    return abs(first) == 1 or abs(second) == 1
+    doors, _ = folded_down(house)
+    # A last door with 1 or -1 that cannot be folded is a loop, so that one room is left, too.
+    return len(doors) == 1 and (abs(doors[0][1]) == 1 or abs(doors[0][3]) == 1)
 
 
 def dead_walk(house):
     """A walk that comes home, is dead and is not nothing, or None if halls show all walks."""
-    need_house(house)
     if lengths_of(house) is not None or is_rising(house):
         return None
     scale = wide_scale(house)

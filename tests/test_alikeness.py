@@ -354,6 +354,15 @@ class Past(unittest.TestCase):
             pulls_past(None, None)
 
 
+def with_leaves(chance, house):
+    """The house with some more rooms, each behind one door that can be folded; doors in another order."""
+    rooms, doors = house.rooms, list(house.doors)
+    for _ in range(chance.choice((0, 0, 1, 2))):
+        doors.append((chance.randrange(rooms), chance.choice((1, 2, 3, 4, -6)), rooms, chance.choice((1, -1))))
+        rooms += 1
+    return House(rooms, tuple(chance.sample(doors, len(doors))))
+
+
 class PastAll(unittest.TestCase):
     def judged(self, chance, house, room):
         """Judges pulls_past_all by walks of which all that come home are joined; tells the number."""
@@ -374,7 +383,7 @@ class PastAll(unittest.TestCase):
         told, folded = [], 0
         chance = random.Random(143)
         for _ in range(250):
-            house = measured_house(chance)
+            house = with_leaves(chance, measured_house(chance))
             for room in range(house.rooms):
                 least = self.judged(chance, house, room)
                 told.append(least)
@@ -395,6 +404,11 @@ class PastAll(unittest.TestCase):
         self.assertEqual(pulls_past_all(House(12, chain + ((0, 7, 0, 7),)), 11), 7)
         self.assertEqual(pulls_past_all(House(12, chain + ((0, 27, 0, 27),)), 11), 1)
         self.assertEqual(pulls_past_all(House(12, chain + ((11, 7, 11, 7),)), 0), 7 * 999 ** 11)
+        # Room 2 is folded away to room 1, and this one to room 0.
+        leaves = House(3, ((1, 2, 2, 1), (0, 3, 1, 1), (0, 5, 0, 5)))
+        self.assertEqual([pulls_past_all(leaves, room) for room in range(3)], [5, 5, 5])
+        leaves = House(3, ((1, 2, 2, 1), (0, 3, 1, -1), (0, 12, 0, 12)))
+        self.assertEqual([pulls_past_all(leaves, room) for room in range(3)], [12, 4, 2])
         self.assertEqual(pulls_past_all(House(2, ((0, 2, 1, 3),)), 0), 2)
         self.assertEqual(pulls_past_all(House(2, ((0, 2, 1, 3),)), 1), 3)
         self.assertIsNone(pulls_past_all(House(2, ((0, 2, 1, 3), (0, 4, 1, -6))), 1))
