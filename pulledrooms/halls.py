@@ -66,6 +66,14 @@ def need_hall(hall):
         raise BadHall("hall is no Hall")
 
 
+def need_like_halls(hall, other):
+    """Raises BadHall for each, or Elsewhere if their houses are unlike."""
+    need_hall(hall)
+    need_hall(other)
+    if hall.house != other.house:
+        raise Elsewhere("the halls are of unlike houses")
+
+
 def need_seat(hall, seat):
     """Raises BadSeat unless seat is a number of a seat of the hall."""
     if not is_number_within(seat, 0, hall.seats - 1):
@@ -171,10 +179,7 @@ def parting_hall(house, walk, most):
 
 def halls_beside(hall, other):
     """The Hall of the seats of both."""
-    need_hall(hall)
-    need_hall(other)
-    if hall.house != other.house:
-        raise Elsewhere("the halls are of unlike houses")
+    need_like_halls(hall, other)
     ropes = [_beside(one, more) for one, more in zip(hall.ropes, other.ropes)]
     ways = [_beside(one, more) for one, more in zip(hall.ways, other.ways)]
     return Hall(hall.house, tuple(ropes), tuple(ways))

@@ -3,8 +3,9 @@
 from math import factorial
 
 from pulledrooms.checks import is_number_within
-from pulledrooms.errors import BadMany, Elsewhere, TooMany
-from pulledrooms.halls import Hall, halls_many, need_hall, need_seat, places_along, places_of, seat_led, way_over
+from pulledrooms.errors import BadMany, TooMany
+from pulledrooms.halls import (Hall, halls_many, need_hall, need_like_halls, need_seat, places_along, places_of,
+                               seat_led, way_over)
 from pulledrooms.houses import ends_of, need_house, need_room, steps_from
 from pulledrooms.walks import need_home
 
@@ -53,7 +54,7 @@ def lead_to(hall, room, seat, other):
 
 def are_one_lot(hall, other, room, seat, place):
     """Whether the lot of hall and seat and the lot of other and place are one."""
-    _need_like_halls(hall, other)
+    need_like_halls(hall, other)
     need_room(hall.house, room)
     need_seat(hall, seat)
     need_seat(other, place)
@@ -93,7 +94,7 @@ def lots_many(house, many):
 
 def meeting_hall(hall, other):
     """The Hall of all pairs of a seat of hall and a seat of other."""
-    _need_like_halls(hall, other)
+    need_like_halls(hall, other)
     if hall.seats * other.seats > MOST_MEETING:
         raise TooMany(MOST_MEETING)
     ropes = [_paired(one, more) for one, more in zip(hall.ropes, other.ropes)]
@@ -134,14 +135,6 @@ def rounds_reached(hall, places, room, seat):
                         later.append(reached)
         fresh = later
     return found
-
-
-def _need_like_halls(hall, other):
-    """Raises BadHall for each, or Elsewhere if their houses are unlike."""
-    need_hall(hall)
-    need_hall(other)
-    if hall.house != other.house:
-        raise Elsewhere("the halls are of unlike houses")
 
 
 def _pulls_between(places, seat, other):

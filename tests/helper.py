@@ -147,18 +147,22 @@ def some_walk(chance, house, passes, room=None, pulls=(-6, 12), turns=0.5):
     return room, tuple(chance.randint(*pulls) for _ in range(len(steps) + 1)), tuple(steps)
 
 
-def way_between(house, start, goal):
-    """The passes of a shortest way from one room to another."""
-    ways = {start: ()}
-    waiting = [start]
-    while goal not in ways:
+def ways_from(house, start):
+    """For each room the passes of a shortest way to it from start; all of them together are a tree."""
+    ways, waiting = {start: ()}, [start]
+    while waiting:
         room = waiting.pop(0)
         for step in all_passes(house):
             leads, _, there, _ = ends(house, step)
             if leads == room and there not in ways:
                 ways[there] = ways[room] + (step,)
                 waiting.append(there)
-    return ways[goal]
+    return ways
+
+
+def way_between(house, start, goal):
+    """The passes of a shortest way from one room to another."""
+    return ways_from(house, start)[goal]
 
 
 def some_round(chance, house, passes, **more):
@@ -385,19 +389,6 @@ def bare(room, steps):
 def done(walk, times):
     """The walk so many times, from once on."""
     return put_together(*[walk] * times)
-
-
-def ways_from(house, start):
-    """For each room the passes of one way to it from start, all of which together are a tree."""
-    ways, waiting = {start: ()}, [start]
-    while waiting:
-        room = waiting.pop(0)
-        for step in all_passes(house):
-            leads, _, there, _ = ends(house, step)
-            if leads == room and there not in ways:
-                ways[there] = ways[room] + (step,)
-                waiting.append(there)
-    return ways
 
 
 def round_trips(house, room):

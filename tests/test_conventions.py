@@ -3,8 +3,8 @@
 import copy
 import unittest
 
-from pulledrooms import (alikeness, books, classes, cores, errors, everyk, forms, halls, houses, lots, moving,
-                         patterns, ratios, returns, roots, shows, texts, walks, weights, wide)
+from pulledrooms import (alikeness, books, changing, classes, cores, covers, errors, everyk, forms, halls, houses, lots,
+                         moving, patterns, ratios, returns, roots, shows, strolls, texts, walks, weights, wide)
 from tests.helper import HUGE, NO_NUMBERS, ODD, PAIR, SINGLE
 
 WALK = (0, (1, 0, 4), ((0, 0), (0, 1)))
@@ -78,6 +78,15 @@ OTHER_PAIR_HALL = ("other", halls.halls_beside(PAIR_HALL, PAIR_HALL), errors.Bad
 UNLIKE_HALL = ("other", PAIR_HALL, errors.Elsewhere, (HALL,))
 TWELVE = houses.House(12, tuple((0, 1, room, 1) for room in range(1, 12)))
 WIDE_HALL = halls.Hall(DOUBLE, (tuple(range(1667)),), (tuple(range(1667)),))
+SEATS = tuple(range(10))
+MANY_ROUNDS = halls.Hall(PAIR, (SEATS, SEATS), (SEATS, SEATS[1:] + (0,)))
+WIDE_COVER = ("hall", PAIR_HALL, errors.TooMany, (MANY_ROUNDS,))
+COVERED = (0, (6, 0, 4), WALK[2])
+NO_COVER_WALKS = ODD + ((3, (0,), ()), (0, (1,), ((0, 0),)), list(WALK), (False,) + WALK[1:])
+CHANGE = ("change", ("turn", 1), errors.BadChange, ODD + (["turn", 1], ("turn", 2), ("turn", True), ("fold", 0)))
+CHANGES = ("changes", [("swap", 0), ("turn", 1)], errors.BadChanges,
+           ODD[:6] + (("turn", 1), [["turn", 1]], [("turn", 2)], [("turn", 0)] * 31))
+NO_SINGLES = NO_HOUSES + (PAIR, houses.House(1, ()))
 
 # A function and, for each parameter from left to right, its name, a right value, the error for wrong ones, wrong ones.
 # A parameter that has two errors stands there twice.
@@ -209,6 +218,29 @@ CALLS = [
                       ("house", PAIR, errors.TooMany, (TWELVE,))]),
     (lots.meeting_hall, [HALLED, OTHER_HALL, ("other", HALL, errors.Elsewhere, (PAIR_HALL,)),
                          ("other", HALL, errors.TooMany, (WIDE_HALL,))]),
+    (covers.cover_rooms, [PAIR_HALLED, PAIR_SEAT]),
+    (covers.cover_doors, [PAIR_HALLED, PAIR_SEAT]),
+    (covers.cover_of, [PAIR_HALLED, PAIR_SEAT, WIDE_COVER]),
+    (covers.out_of_cover, [PAIR_HALLED, PAIR_SEAT, WIDE_COVER, ("walk", (0, (2, 1), ((0, 0),)), errors.BadWalk,
+                                                                NO_COVER_WALKS)]),
+    (covers.into_cover, [PAIR_HALLED, PAIR_SEAT, ("walk", COVERED, errors.BadWalk, NO_WALKS),
+                         ("walk", COVERED, errors.NotHome, (FAR,)),
+                         ("walk", COVERED, errors.Elsewhere, ((1, (0,), ()), (1, (1,), ()))),
+                         ("walk", COVERED, errors.NotWithin, ((0, (1, 0, 0, 0), ((0, 0), (1, 0), (0, 1))),)),
+                         WIDE_COVER]),
+    (covers.plain_cover, [HOUSE]),
+    (changing.is_change, [HOUSE, THING]),
+    (changing.changed, [HOUSE, CHANGE]),
+    (changing.room_along, [HOUSE, CHANGE, ROOM]),
+    (changing.changed_by, [HOUSE, CHANGES]),
+    (changing.along, [HOUSE, CHANGE, WALKED]),
+    (changing.along_by, [HOUSE, CHANGES, WALKED]),
+    (changing.along_back, [HOUSE, CHANGE, WALKED]),
+    (changing.hall_along, [HOUSE, CHANGE, ("hall", PAIR_HALL, errors.BadHall, ODD + (HALL, PAIR))]),
+    (changing.folded_away, [HOUSE]),
+    (changing.single_alike, [("one", SINGLE, errors.BadSingle, NO_SINGLES),
+                             ("other", DOUBLE, errors.BadSingle, NO_SINGLES)]),
+    (strolls.Stroll, [HOUSE, ROOM]),
 ]
 # What stands last for functions that judge any value.
 JUDGES = [THING, WAY, RULE, BOOK_JUDGED, FITTING, SPOTS_JUDGED] + JUDGED

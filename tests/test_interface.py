@@ -48,11 +48,25 @@ INTERFACE = {
     "roots": "root_of(house, walk, many), root_pulls(house, walk, many), greatest_root(house, walk)",
     "lots": "within(hall, walk, seat), beside_many(hall, room, seat), lead_to(hall, room, seat, other), "
             "are_one_lot(hall, other, room, seat, place), lots_many(house, many), meeting_hall(hall, other)",
+    "covers": "cover_rooms(hall, seat), cover_doors(hall, seat), cover_of(hall, seat), "
+              "out_of_cover(hall, seat, walk), into_cover(hall, seat, walk), plain_cover(house)",
+    "changing": "is_change(house, thing), changed(house, change), room_along(house, change, room), "
+                "changed_by(house, changes), along(house, change, walk), along_by(house, changes, walk), "
+                "along_back(house, change, walk), hall_along(house, change, hall), folded_away(house), "
+                "single_alike(one, other)",
+    "strolls": "Stroll(house, room)",
+    "desk": "Desk()",
+}
+METHODS = {
+    "Stroll": "pull(times), go(step), undo(), redo(), deeds(), so_far(), here(), plain(), away(), is_back(), copy(), "
+              "place_at(moment), first_here(), met(moment), way_to(moment), farthest(), round_trips(), "
+              "seat_of(hall, seat), seats_met(hall, seat)",
+    "Desk": "say(row)",
 }
 # Each module imports only from those that stand ahead of it; checks, folding and lines are further ones.
 ORDER = ("errors", "checks", "houses", "folding", "walks", "texts", "forms", "cores", "ratios", "weights", "moving",
          "books", "classes", "lines", "patterns", "halls", "returns", "wide", "everyk", "shows", "alikeness", "roots",
-         "lots")
+         "lots", "covers", "changing", "strolls", "desk")
 
 
 class Interface(unittest.TestCase):
@@ -63,7 +77,18 @@ class Interface(unittest.TestCase):
                 with self.subTest(module=name, word=word):
                     thing = getattr(module, word)
                     self.assertEqual(thing.__module__, module.__name__)
-                    self.assertEqual(list(inspect.signature(thing).parameters), parameters.split(", "))
+                    told = parameters.split(", ") if parameters else []
+                    self.assertEqual(list(inspect.signature(thing).parameters), told)
+
+    def test_methods_stand_in_their_class_itself(self):
+        for name, module in (("Stroll", "strolls"), ("Desk", "desk")):
+            thing = getattr(importlib.import_module(f"pulledrooms.{module}"), name)
+            for word, parameters in re.findall(r"(\w+)\(([^)]*)\)", METHODS[name]):
+                with self.subTest(name=name, word=word):
+                    told = ["self"] + (parameters.split(", ") if parameters else [])
+                    self.assertEqual(list(inspect.signature(vars(thing)[word]).parameters), told)
+        self.assertIn("__len__", vars(importlib.import_module("pulledrooms.strolls").Stroll))
+        self.assertIn("__eq__", vars(importlib.import_module("pulledrooms.strolls").Stroll))
 
     def test_init_defines_nothing(self):
         show = "import pulledrooms; print([name for name in vars(pulledrooms) if not name.startswith('__')])"
@@ -93,6 +118,12 @@ class Interface(unittest.TestCase):
         house = importlib.import_module("pulledrooms.houses").House(1, ((0, 1, 0, 2),))
         hall = halls.Hall(house, ((1, 2, 0),), ((0, 2, 1),))
         self.assertEqual((hall.house, hall.ropes, hall.ways, hall.seats), (house, ((1, 2, 0),), ((0, 2, 1),), 3))
+
+    def test_a_stroll_and_a_desk_have_their_attributes(self):
+        house = importlib.import_module("pulledrooms.houses").House(2, ((0, 2, 1, 3),))
+        stroll = importlib.import_module("pulledrooms.strolls").Stroll(house, 1)
+        self.assertEqual((stroll.house, stroll.start), (house, 1))
+        self.assertIsNone(importlib.import_module("pulledrooms.desk").Desk().stroll)
 
 
 if __name__ == "__main__":

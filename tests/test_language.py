@@ -19,7 +19,7 @@ isupper items join keys ljust lower lstrip partition pop remove replace reverse 
 setdefault split splitlines startswith strip update upper values zfill bit_length removeprefix removesuffix
 __init__""".split())
 BARRED_NODES = (
-    ast.GeneratorExp, ast.Set, ast.SetComp, ast.Global, ast.AsyncFunctionDef, ast.Try, ast.Div, ast.Pow, ast.Lambda,
+    ast.GeneratorExp, ast.Set, ast.SetComp, ast.Global, ast.AsyncFunctionDef, ast.Div, ast.Pow, ast.Lambda,
     ast.With, ast.Starred, ast.Yield, ast.YieldFrom, ast.Match, ast.Nonlocal, ast.NamedExpr, ast.Import, ast.Assert,
     ast.AnnAssign, ast.Delete,
 )
@@ -93,7 +93,8 @@ class Language(unittest.TestCase):
                 if isinstance(node, ast.FunctionDef):
                     with self.subTest(name=name, function=node.name):
                         self.assertLessEqual(node.end_lineno - node.lineno + 1, 40)
-                        self.assertTrue(not node.name.startswith("__") or node.name in ("__init__", "__eq__"))
+                        self.assertTrue(not node.name.startswith("__")
+                                        or node.name in ("__init__", "__eq__", "__len__"))
 
     def test_nodes(self):
         for name, tree in self.each():
@@ -105,6 +106,14 @@ class Language(unittest.TestCase):
                     if isinstance(node, ast.Constant) and isinstance(node.value, str):
                         self.assertNotIn("%", node.value)
                     self.assertFalse(isinstance(node, ast.Constant) and isinstance(node.value, (float, bytes)))
+
+    def test_only_own_errors_are_caught(self):
+        for name, tree in self.each():
+            for node in ast.walk(tree):
+                if isinstance(node, ast.Try):
+                    with self.subTest(name=name, line=node.lineno):
+                        self.assertEqual([handler.type.id for handler in node.handlers], ["PullError"])
+                        self.assertEqual((node.handlers[0].name, node.orelse, node.finalbody), (None, [], []))
 
     def test_names(self):
         for name, tree in self.each():
