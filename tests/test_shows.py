@@ -4,17 +4,20 @@ import random
 import unittest
 from math import lcm
 
+from pulledrooms.classes import same_rows
 from pulledrooms.errors import BadFitting, BadHouse, BadWalk, NotHome, TooMany
+from pulledrooms.everyk import dead_for
 from pulledrooms.forms import is_nothing
 from pulledrooms.halls import Hall
 from pulledrooms.houses import House
-from pulledrooms.ratios import stretching_walk
+from pulledrooms.patterns import nothing_for
+from pulledrooms.ratios import lengths_of, stretching_walk
 from pulledrooms.shows import dead_walk, hall_for, hall_with, is_rising
 from pulledrooms.walks import comes_home
 from pulledrooms.wide import dead_spots, is_dead
 from tests.helper import (ALONE, GREAT, HUGE, ODD, PAIR, RING, SINGLE, TWINS, bare, done, fit_here, fitting_here,
                           houses_by_chance, lead_seat, led_along, measured_house, pulls_in, put_together, rooms_of,
-                          rounds_here, some_hall, some_nothing, some_round, some_walk, turned_back)
+                          rounds_here, some_hall, some_nothing, some_pattern, some_round, some_walk, turned_back)
 from tests.test_wide import DEAD, left_by_rests, telling_numbers
 
 LEVEL = House(1, ((0, 1, 0, 1),))
@@ -336,6 +339,19 @@ class DeadWalk(unittest.TestCase):
         for house in (ALONE, TWINS, LEVEL, House(1, ((0, 2, 0, -2),)), House(1, ((0, 1, 0, 7),)),
                       House(2, ((0, 2, 1, 3), (0, -4, 1, 6)))):
             self.assertIsNone(dead_walk(house))
+
+    def test_where_there_is_none_halls_show_all_walks(self):
+        rising = shown = 0
+        for chance, house in houses_by_chance(121, 300, numbers=(1, 1, 1, 2, 3), most_rooms=4, most_more=1):
+            if dead_walk(house) is not None:
+                continue
+            rising += lengths_of(house) is None
+            for walk in (some_shown(chance, house), some_shown(chance, house)):
+                self.assertIs(is_dead(house, walk), is_nothing(house, walk))
+                shown += not is_nothing(house, walk)
+            pattern = some_pattern(chance, house, 6, home=True)
+            self.assertTrue(same_rows(dead_for(house, pattern), nothing_for(house, pattern)))
+        self.assertGreater(min(rising, shown), 40)
 
     def test_houses_with_a_long_way_to_a_pass_that_tells(self):
         """A loop that stretches lies far off from whatever else there is, behind doors that change nothing."""
