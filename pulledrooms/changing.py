@@ -4,8 +4,7 @@ from pulledrooms.checks import is_list, is_number, is_number_within, is_tuple_of
 from pulledrooms.errors import BadChange, BadChanges, BadHall, BadSingle, BadWalk
 from pulledrooms.folding import can_be_folded, doors_behind, fold_of
 from pulledrooms.halls import Hall, pulled, then, turned, way_over
-from pulledrooms.houses import (MOST_DOORS, House, back_of, ends_of, is_door, is_pass, is_room, is_room_count,
-                                need_house, need_room)
+from pulledrooms.houses import House, are_doors, back_of, ends_of, is_pass, is_room, is_room_count, need_house, need_room
 from pulledrooms.walks import is_walk, last_room, need_walk, room_after
 
 MOST_CHANGES = 30
@@ -138,10 +137,9 @@ def _outcome(house, thing):
     told = _told(house, thing)
     if told is None:
         return None
-    rooms, doors = told
-    if not is_room_count(rooms) or len(doors) > MOST_DOORS or not all([is_door(rooms, door) for door in doors]):
-        return None
-    return House(rooms, tuple(doors))
+    rooms, doors = told[0], tuple(told[1])
+    # All rooms are joined still, as those of house are.
+    return House(rooms, doors) if is_room_count(rooms) and are_doors(rooms, doors) else None
 
 
 def _told(house, thing):

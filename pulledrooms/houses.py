@@ -14,7 +14,7 @@ class House:
     def __init__(self, rooms, doors):
         if not is_room_count(rooms):
             raise BadRooms("rooms is no number from 1 to 12")
-        if not _are_doors(rooms, doors):
+        if not are_doors(rooms, doors):
             raise BadDoors("doors is no tuple of at most 20 doors")
         apart = _least_apart(rooms, doors)
         if apart is not None:
@@ -44,7 +44,8 @@ def _is_door_number(thing):
     return is_number_within(thing, -GREATEST, GREATEST) and thing != 0
 
 
-def _are_doors(rooms, thing):
+def are_doors(rooms, thing):
+    """Whether thing is a tuple of as many doors as a house may have, which has so many rooms."""
     if not isinstance(thing, tuple) or len(thing) > MOST_DOORS:
         return False
     return all([is_door(rooms, door) for door in thing])

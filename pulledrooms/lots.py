@@ -4,8 +4,7 @@ from math import factorial
 
 from pulledrooms.checks import is_number_within
 from pulledrooms.errors import BadMany, TooMany
-from pulledrooms.halls import (Hall, halls_many, need_hall, need_like_halls, need_seat, places_along, places_of,
-                               seat_led, way_over)
+from pulledrooms.halls import Hall, halls_many, led_seat, need_hall, need_like_halls, need_seat, places_of, way_over
 from pulledrooms.houses import ends_of, need_house, need_room, steps_from
 from pulledrooms.walks import need_home
 
@@ -17,8 +16,7 @@ def within(hall, walk, seat):
     """Whether the walk leads the seat to itself."""
     need_hall(hall)
     need_home(hall.house, walk)
-    need_seat(hall, seat)
-    return seat_led(hall, places_along(hall, walk), walk, seat) == seat
+    return led_seat(hall, walk, seat) == seat
 
 
 def beside_many(hall, room, seat):
