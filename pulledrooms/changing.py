@@ -4,7 +4,8 @@ from pulledrooms.checks import is_list, is_number, is_number_within, is_tuple_of
 from pulledrooms.errors import BadChange, BadChanges, BadHall, BadSingle, BadWalk
 from pulledrooms.folding import can_be_folded, doors_behind, fold_of
 from pulledrooms.halls import Hall, pulled, then, turned, way_over
-from pulledrooms.houses import House, are_doors, back_of, ends_of, is_pass, is_room, is_room_count, need_house, need_room
+from pulledrooms.houses import House, are_doors, back_of, ends_of, is_pass, is_room, is_room_count
+from pulledrooms.houses import need_house, need_room
 from pulledrooms.walks import is_walk, last_room, need_walk, room_after
 
 MOST_CHANGES = 30
